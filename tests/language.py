@@ -1,0 +1,212 @@
+"""Those rules of the program's Python subset that can be looked at mechanically, by their numbers.
+
+It looks for the slips that happen most easily; it does not take the place of reading the rules.
+"""
+
+import ast
+import builtins
+import re
+
+PACKAGE = "betweenfaces"
+LIBRARY = {"math": {"gcd", "lcm", "isqrt", "comb", "perm", "factorial"},
+           "heapq": {"heappush", "heappop", "heapify", "heapreplace", "heappushpop"}}
+BUILTINS = set("""len range enumerate zip min max sum abs sorted reversed int str bool list tuple dict set isinstance ord repr
+    any all divmod pow iter next Exception ValueError TypeError KeyError IndexError LookupError ZeroDivisionError
+    ArithmeticError OverflowError RuntimeError NotImplementedError AttributeError NotImplemented super property
+    classmethod staticmethod""".split())
+METHODS = set("""append clear copy count endswith extend find get index insert isalnum isalpha isdigit islower isspace
+    isupper items join keys ljust lower lstrip partition pop remove replace reverse rfind rjust rpartition rsplit rstrip
+    setdefault split splitlines startswith strip update upper values zfill bit_length title capitalize swapcase casefold
+    expandtabs removeprefix removesuffix rindex isascii isdecimal isnumeric isidentifier add discard""".split())
+DUNDERS = set("""init eq repr str len enter exit call iter lt le gt ge ne add sub mul floordiv mod pow and or xor lshift
+    rshift neg pos invert abs bool contains getitem setitem""".split())
+NOT_NAMES = set("""register mro elements open input law version_info with_traceback add_note attrgetter breakpoint builtins
+    compile copyright credits delattr dir eval exec exit gc getattr globals hasattr help id importlib license locals
+    methodcaller os quit setattr super type vars sys""".split())
+NOT_WORDS = re.compile(r"\b(type|typing|typing_extensions|enum|Enum|IntEnum|StrEnum|Flag|IntFlag|Generic|Protocol|ABC|"
+                       r"ABCMeta|namedtuple|NamedTuple|TypedDict|TYPE_CHECKING|abstractmethod)\b|"
+                       r"dataclass|overload|contextmanager|Meta|metaclass=|\(type\)|_wall|_WallAttr")
+STATEMENTS = (ast.FunctionDef, ast.ClassDef, ast.Assign, ast.Import, ast.ImportFrom, ast.Expr, ast.If, ast.While, ast.For,
+              ast.Return, ast.Break, ast.Continue, ast.Pass, ast.Raise, ast.Assert, ast.Delete, ast.Nonlocal, ast.Match,
+              ast.With, ast.Try, ast.AugAssign, ast.AnnAssign)
+WRITERS = ("__str__", "__repr__")
+
+
+def own_names(texts):
+    """The names of all methods that the classes of some texts define."""
+    return {part.name for text in texts for node in ast.walk(ast.parse(text)) if isinstance(node, ast.ClassDef)
+            for part in node.body if isinstance(part, ast.FunctionDef)}
+
+
+def faults(text, own=()):
+    """The list of (rule, line) of what breaks a rule in a text of a package with these methods of its own."""
+    tree = ast.parse(text)
+    found = _characters(text) + _module_level(tree) + _imports(tree)
+    for node in ast.walk(tree):
+        found += _statement(node) + _expression(node) + _names(node)
+        if isinstance(node, ast.FunctionDef):
+            found += _function(node)
+        if isinstance(node, ast.ClassDef):
+            found += _class(node)
+        if isinstance(node, ast.Call) and isinstance(node.func, ast.Attribute):
+            found += [] if node.func.attr in METHODS or node.func.attr in own else [("L25", node.lineno)]
+    return sorted(set(found))
+
+
+def cycles(texts):
+    """The modules that import each other, from a dict of the texts by module name."""
+    uses = {name: {node.module.partition(".")[2] for node in ast.walk(ast.parse(text))
+                   if isinstance(node, ast.ImportFrom) and node.module.startswith(PACKAGE + ".")} for name, text in texts.items()}
+    found = []
+    for name in uses:
+        reached, waiting = set(), sorted(uses[name])
+        while waiting:
+            other = waiting.pop()
+            if other not in reached:
+                reached.add(other)
+                waiting += sorted(uses.get(other, ()))
+        found += [name] if name in reached else []
+    return found
+
+
+def _characters(text):
+    lines = text.split("\n")
+    found = [("L10", at) for at, line in enumerate(lines, 1) if len(line) > 120]
+    found += [("L14", at) for at, line in enumerate(lines, 1) if re.search("[^ -~]", line)]
+    found += [("L17", at) for at, line in enumerate(lines, 1) if NOT_WORDS.search(line)]
+    return found + ([("L10", len(lines))] if len(lines) > 400 else [])
+
+
+def _module_level(tree):
+    found = []
+    for at, node in enumerate(tree.body):
+        docstring = at == 0 and isinstance(node, ast.Expr) and isinstance(node.value, ast.Constant)
+        known = isinstance(node, (ast.FunctionDef, ast.ClassDef, ast.ImportFrom, ast.Assign))
+        if not docstring and not known:
+            found.append(("L3", node.lineno))
+        if isinstance(node, ast.Assign) and any(isinstance(part, (ast.Call, ast.JoinedStr)) for part in ast.walk(node)):
+            found.append(("L3", node.lineno))
+    names = [node.name for node in tree.body if isinstance(node, (ast.FunctionDef, ast.ClassDef))]
+    names += [part.name for node in tree.body if isinstance(node, ast.ImportFrom) for part in node.names]
+    names += [node.targets[0].id for node in tree.body if isinstance(node, ast.Assign)]
+    return found + [("L15", 1) for name in set(names) if names.count(name) > 1]
+
+
+def _imports(tree):
+    found = []
+    for node in ast.walk(tree):
+        if isinstance(node, ast.Import) or (isinstance(node, ast.ImportFrom) and node not in tree.body):
+            found.append(("L2", node.lineno))
+        elif isinstance(node, ast.ImportFrom):
+            own = node.module is not None and node.level == 0 and node.module.startswith(PACKAGE + ".")
+            names = {part.name for part in node.names}
+            if not own and not names <= LIBRARY.get(node.module, set()):
+                found.append(("L2", node.lineno))
+            if any(part.asname or part.name == "*" for part in node.names):
+                found.append(("L2", node.lineno))
+    return found
+
+
+def _statement(node):
+    if isinstance(node, ast.stmt) and not isinstance(node, STATEMENTS):
+        return [("L6", node.lineno)]
+    if isinstance(node, ast.Try):
+        named = [ast.unparse(handler.type) if handler.type else "" for handler in node.handlers]
+        barred = {"", "Exception", "TypeError", "ArithmeticError", "OverflowError", "RuntimeError", "AttributeError"}
+        # The package has operators and lengths: hardly anything may stand in a try that catches these.
+        barred |= {"ValueError", "LookupError", "IndexError"}
+        return [("L19", node.lineno) for name in named if name in barred]
+    if isinstance(node, ast.Raise) and node.exc is not None and not isinstance(node.exc, ast.Call):
+        return [("L19", node.lineno)]
+    return []
+
+
+def _expression(node):
+    line = getattr(node, "lineno", 0)
+    if isinstance(node, ast.Constant):
+        wrong = isinstance(node.value, (float, complex)) or (isinstance(node.value, str) and "%" in node.value)
+        return [("L27", line)] if wrong else []
+    if isinstance(node, (ast.BinOp, ast.AugAssign)) and isinstance(node.op, (ast.Div, ast.MatMult)):
+        return [("L7", line)]
+    if isinstance(node, (ast.GeneratorExp, ast.Await, ast.AsyncFunctionDef)):
+        return [("L7", line)]
+    if isinstance(node, ast.Compare) and any(isinstance(op, (ast.Is, ast.IsNot)) for op in node.ops):
+        plain = all(isinstance(one, ast.Constant) and one.value in (None, True, False) for one in node.comparators)
+        return [] if plain else [("L20", line)]
+    if isinstance(node, ast.Call):
+        return _call(node)
+    return []
+
+
+def _call(node):
+    found = []
+    if isinstance(node.func, ast.Name) and node.func.id in ("len", "reversed") and node.args:
+        inner = node.args[0]
+        bare = isinstance(inner, ast.Call) and isinstance(inner.func, ast.Name) and inner.func.id in ("zip", "enumerate")
+        found += [("L23", node.lineno)] if bare else []
+    if isinstance(node.func, ast.Attribute) and node.func.attr in ("sort", "format", "index", "remove"):
+        found.append(("L25", node.lineno))
+    return found
+
+
+def _names(node):
+    line = getattr(node, "lineno", 0)
+    found = []
+    if isinstance(node, ast.Name):
+        known = node.id in BUILTINS or not hasattr(builtins, node.id)
+        found += [] if known else [("L8", line)]
+        if isinstance(node.ctx, ast.Store) and (hasattr(builtins, node.id) or node.id in NOT_NAMES):
+            found.append(("L15", line))
+    for name in _bound(node):
+        if name in NOT_NAMES or hasattr(builtins, name) or (name.startswith("__") and not name.endswith("__")):
+            found.append(("L15", line))
+    if isinstance(node, ast.Attribute) and node.attr.startswith("__") and node.attr != "__init__":
+        found.append(("L8", line))
+    return found
+
+
+def _bound(node):
+    """The names of parameters, functions and classes that a node binds; methods are looked at as functions."""
+    if isinstance(node, ast.arg):
+        return [node.arg]
+    if isinstance(node, ast.ClassDef):
+        return [node.name]
+    if isinstance(node, ast.FunctionDef) and not node.name.startswith("__"):
+        return [node.name]
+    return []
+
+
+def _function(node):
+    found = []
+    first = min([node.lineno] + [part.lineno for part in node.decorator_list])
+    if node.end_lineno - first + 1 > 40:
+        found.append(("L10", node.lineno))
+    for default in node.args.defaults + [one for one in node.args.kw_defaults if one is not None]:
+        if any(isinstance(part, (ast.List, ast.Dict, ast.Set, ast.Call)) for part in ast.walk(default)):
+            found.append(("L4", node.lineno))
+    if node.name in WRITERS:
+        for part in ast.walk(node):
+            if isinstance(part, (ast.Assign, ast.AugAssign)):
+                found.append(("L28", part.lineno))
+            if isinstance(part, ast.Return) and not isinstance(part.value, (ast.JoinedStr, ast.Constant, ast.Call)):
+                found.append(("L28", part.lineno))
+        if not isinstance(node.body[-1], ast.Return):
+            found.append(("L28", node.lineno))
+    return found
+
+
+def _class(node):
+    found = []
+    methods = [part for part in node.body if isinstance(part, ast.FunctionDef)]
+    names = [method.name for method in methods]
+    for method in methods:
+        if method.name.startswith("__") and method.name.strip("_") not in DUNDERS:
+            found.append(("L5", method.lineno))
+        for decorator in method.decorator_list:
+            if ast.unparse(decorator) not in ("property", "classmethod", "staticmethod", f"{method.name}.setter"):
+                found.append(("L5", method.lineno))
+    if node.decorator_list:
+        found.append(("L5", node.lineno))
+    if "__getitem__" in names and "__iter__" not in names:
+        found.append(("L5", node.lineno))
+    return found
