@@ -14,8 +14,8 @@ class Quantity:
         if not all([_is_row(row) for row in rows]):
             raise InvalidRow("rows")
         self.home = Ratio.of(home)
-        self.rows = tuple([(reach, Ratio.of(delta)) for reach, delta in rows])
-        self.names = tuple(sorted({name for reach, _ in rows for name in reach}))
+        self._rows = tuple([(reach, Ratio.of(delta)) for reach, delta in rows])
+        self._names = tuple(sorted({name for reach, _ in rows for name in reach}))
 
     @classmethod
     def of(cls, home, rows=()):
@@ -26,26 +26,36 @@ class Quantity:
             raise InvalidRow("rows")
         return Quantity(home, *rows)
 
+    @property
+    def rows(self):
+        """The tuple of the rows."""
+        return self._rows
+
+    @property
+    def names(self):
+        """The ascending tuple of the axes in the reaches."""
+        return self._names
+
     def at(self, places):
         """The value at the inner places of a Setting."""
-        for name in self.names:
+        for name in self._names:
             if name not in places:
                 raise UnknownAxis(name)
         value = self.home
-        for reach, delta in self.rows:
+        for reach, delta in self._rows:
             value = value + reach(places) * delta
         return value
 
     def __add__(self, other):
         home = self.home + other.home
-        rows = self.rows + other.rows
+        rows = self._rows + other._rows
         return Quantity(home, *rows)
 
     def __eq__(self, other):
-        return isinstance(other, Quantity) and self.home == other.home and self.rows == other.rows
+        return isinstance(other, Quantity) and self.home == other.home and self._rows == other._rows
 
     def __repr__(self):
-        return f"Quantity({len(self.rows)} rows)"
+        return f"Quantity({len(self._rows)} rows)"
 
 
 def _is_row(value):

@@ -12,11 +12,11 @@ class Room:
     def __init__(self, **spans):
         if not are_by_axis_names(spans):
             raise InvalidRoom(None)
-        self.names = tuple(sorted(spans))
-        for name in self.names:
+        self._names = tuple(sorted(spans))
+        for name in self._names:
             if not _is_span(spans[name]):
                 raise InvalidRoom(name)
-        self._spans = {name: _parts_of(spans[name]) for name in self.names}
+        self._spans = {name: _parts_of(spans[name]) for name in self._names}
 
     @classmethod
     def of(cls, spans):
@@ -32,9 +32,14 @@ class Room:
         spans = {name: numbers[0] if len(numbers) == 1 else tuple(numbers) for name, numbers in told.items()}
         return Room(**spans)
 
+    @property
+    def names(self):
+        """The ascending tuple of the names."""
+        return self._names
+
     def holds(self, setting):
         """Whether a Setting has a place in each span."""
-        for name in self.names:
+        for name in self._names:
             low, _, high = self._spans[name]
             if name not in setting or not is_within(low, setting[name], high):
                 return False
@@ -42,7 +47,7 @@ class Room:
 
     def __and__(self, other):
         spans = {}
-        for name in sorted(set([*self.names, *other.names])):
+        for name in sorted(set([*self._spans, *other._spans])):
             low, home, high = _common(self._spans.get(name), other._spans.get(name))
             if high.under(low):
                 return None
@@ -50,7 +55,7 @@ class Room:
         return Room(**spans)
 
     def __len__(self):
-        return len(self.names)
+        return len(self._names)
 
     def __contains__(self, name):
         return isinstance(name, str) and name in self._spans
@@ -61,7 +66,7 @@ class Room:
         return self._spans[name]
 
     def __iter__(self):
-        return iter(self.names)
+        return iter(self._names)
 
     def __eq__(self, other):
         return isinstance(other, Room) and self._spans == other._spans

@@ -12,11 +12,11 @@ class Setting:
     def __init__(self, **places):
         if not are_by_axis_names(places):
             raise InvalidSetting(None)
-        self.names = tuple(sorted(places))
-        for name in self.names:
+        self._names = tuple(sorted(places))
+        for name in self._names:
             if not is_number(places[name]):
                 raise InvalidSetting(name)
-        self._places = {name: Ratio.of(places[name]) for name in self.names}
+        self._places = {name: Ratio.of(places[name]) for name in self._names}
 
     @classmethod
     def of(cls, places):
@@ -31,6 +31,11 @@ class Setting:
         places = {name: numbers[0] for name, numbers in spans_told(text, 1).items()}
         return Setting(**places)
 
+    @property
+    def names(self):
+        """The ascending tuple of the names."""
+        return self._names
+
     def moved(self, name, place):
         """A Setting with this place under this name."""
         if not is_axis_name(name):
@@ -42,11 +47,11 @@ class Setting:
         """A Setting without this name."""
         if name not in self:
             raise UnknownAxis(name)
-        places = {other: self._places[other] for other in self.names if other != name}
+        places = {other: self._places[other] for other in self._names if other != name}
         return Setting(**places)
 
     def __len__(self):
-        return len(self.names)
+        return len(self._names)
 
     def __contains__(self, name):
         return isinstance(name, str) and name in self._places
@@ -57,7 +62,7 @@ class Setting:
         return self._places[name]
 
     def __iter__(self):
-        return iter(self.names)
+        return iter(self._names)
 
     def __eq__(self, other):
         return isinstance(other, Setting) and self._places == other._places

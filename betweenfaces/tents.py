@@ -58,8 +58,8 @@ class Reach:
     def __init__(self, **tents):
         if not _is_reach(tents):
             raise InvalidTent()
-        self.names = tuple(sorted(tents))
-        self._tents = {name: tents[name] for name in self.names}
+        self._names = tuple(sorted(tents))
+        self._tents = {name: tents[name] for name in self._names}
 
     @classmethod
     def of(cls, tents):
@@ -68,26 +68,31 @@ class Reach:
             raise InvalidTent()
         return Reach(**tents)
 
+    @property
+    def names(self):
+        """The ascending tuple of the names."""
+        return self._names
+
     def __call__(self, places):
-        for name in self.names:
+        for name in self._names:
             if name not in places:
                 raise UnknownAxis(name)
         scalar = Ratio(1)
-        for name in self.names:
+        for name in self._names:
             tent = self._tents[name]
             scalar = scalar * tent(places[name])
         return scalar
 
     def fits(self, axes):
         """Whether each name is that of one of the axes, and its tent fits this axis."""
-        return all([self._fits_one(name, axes) for name in self.names])
+        return all([self._fits_one(name, axes) for name in self._names])
 
     def _fits_one(self, name, axes):
         """Whether one of the axes has this name, and the tent under it fits."""
         return any([axis.name == name and self._tents[name].fits(axis) for axis in axes])
 
     def __len__(self):
-        return len(self.names)
+        return len(self._names)
 
     def __contains__(self, name):
         return isinstance(name, str) and name in self._tents
@@ -98,7 +103,7 @@ class Reach:
         return self._tents[name]
 
     def __iter__(self):
-        return iter(self.names)
+        return iter(self._names)
 
     def __eq__(self, other):
         return isinstance(other, Reach) and self._tents == other._tents

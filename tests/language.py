@@ -69,6 +69,45 @@ def cycles(texts):
     return found
 
 
+def property_faults(texts):
+    """The list of (rule, file, line) of what breaks a rule by the name of a property, from a dict of texts by file.
+
+    What class an object has cannot be seen here: the name of an attribute stands for that of each property.
+    """
+    trees = {name: ast.parse(text) for name, text in texts.items()}
+    told, fixed = _properties(trees.values())
+    return sorted((rule, name, line) for name, tree in trees.items() for node in ast.walk(tree)
+                  for rule, line in _property_use(node, told, fixed))
+
+
+def _properties(trees):
+    """The names of all properties, and of those that have no setter in some class."""
+    told, fixed = set(), set()
+    for node in [node for tree in trees for node in ast.walk(tree) if isinstance(node, ast.ClassDef)]:
+        decorators = {ast.unparse(one): part.name for part in node.body if isinstance(part, ast.FunctionDef)
+                      for one in part.decorator_list}
+        own = {part.name for part in node.body if isinstance(part, ast.FunctionDef)
+               if any(ast.unparse(one) == "property" for one in part.decorator_list)}
+        told |= own
+        fixed |= {name for name in own if f"{name}.setter" not in decorators}
+    return told, fixed
+
+
+def _property_use(node, told, fixed):
+    if isinstance(node, ast.Attribute) and node.attr in told:
+        assigned = isinstance(node.ctx, ast.Store) and node.attr in fixed
+        return [("L5", node.lineno)] if assigned or isinstance(node.ctx, ast.Del) else []
+    if isinstance(node, ast.Call):
+        starred = [one.value for one in node.args if isinstance(one, ast.Starred)]
+        starred += [one.value for one in node.keywords if one.arg is None]
+        found = [("L7", node.lineno) for one in starred if isinstance(one, ast.Attribute) and one.attr in told]
+        return found + ([("L5", node.lineno)] if isinstance(node.func, ast.Attribute) and node.func.attr in told else [])
+    if isinstance(node, (ast.List, ast.Tuple)):
+        starred = [one.value for one in node.elts if isinstance(one, ast.Starred)]
+        return [("L7", node.lineno) for one in starred if isinstance(one, ast.Attribute) and one.attr in told]
+    return []
+
+
 def _characters(text):
     lines = text.split("\n")
     found = [("L10", at) for at, line in enumerate(lines, 1) if len(line) > 120]

@@ -3,7 +3,7 @@
 import pathlib
 import unittest
 
-from tests.language import cycles, faults, own_names
+from tests.language import cycles, faults, own_names, property_faults
 
 FOLDER = pathlib.Path(__file__).resolve().parent.parent / "betweenfaces"
 WRONG = {
@@ -28,6 +28,17 @@ WRONG = {
 }
 
 
+FIXED = "class A:\n    @property\n    def rows(self):\n        return self._rows\n"
+SET = FIXED + "    @rows.setter\n    def rows(self, value):\n        self._rows = value\n"
+WRONG_BY_NAME = {
+    "L5": ["class B:\n    def __init__(self):\n        self.rows = 1\n", "def f(b):\n    b.x, b.rows = 1, 2\n",
+           "def f(b):\n    b.rows += 1\n", "def f(b):\n    for b.rows in (1, 2):\n        pass\n",
+           "def f(b):\n    del b.rows\n", "def f(b):\n    return b.rows()\n"],
+    "L7": ["def f(b):\n    return f(*b.rows)\n", "def f(b):\n    return f(**b.rows)\n", "def f(b):\n    return [*b.rows]\n",
+           "def f(b):\n    return (1, *b.rows)\n"],
+}
+
+
 class Language(unittest.TestCase):
     def setUp(self):
         self.files = sorted(path for path in FOLDER.rglob("*") if "__pycache__" not in path.parts)
@@ -45,6 +56,18 @@ class Language(unittest.TestCase):
     def test_no_two_files_import_from_each_other(self):
         self.assertEqual(cycles({path.stem: path.read_text() for path in self.files}), [])
         self.assertEqual(cycles({"a": "from betweenfaces.b import b\n", "b": "from betweenfaces.a import a\n"}), ["a", "b"])
+
+    def test_the_files_keep_the_rules_of_properties(self):
+        self.assertEqual(property_faults({path.name: path.read_text() for path in self.files}), [])
+
+    def test_what_breaks_a_rule_of_properties_is_found(self):
+        for rule, texts in WRONG_BY_NAME.items():
+            for text in texts:
+                told = property_faults({"a.py": FIXED, "b.py": text})
+                self.assertEqual([(found, name) for found, name, line in told], [(rule, "b.py")], text)
+        self.assertEqual(property_faults({"a.py": SET, "b.py": WRONG_BY_NAME["L5"][0]}), [])
+        both = {"a.py": SET, "b.py": FIXED, "c.py": WRONG_BY_NAME["L5"][0]}
+        self.assertEqual(property_faults(both), [("L5", "c.py", 3)])
 
     def test_what_breaks_a_rule_is_found(self):
         for rule, texts in WRONG.items():
