@@ -1,5 +1,6 @@
 """Letters: a width, rounds of points, parts that place other letters, and rows."""
 
+from betweenfaces.blends import blend, flat, in_pairs, whole_lists
 from betweenfaces.errors import InvalidLetter
 from betweenfaces.points import is_point, point_of
 from betweenfaces.quantities import Quantity
@@ -26,7 +27,7 @@ class Letter:
             raise InvalidLetter("rows")
         self._rows = tuple(rows)
         # What is inferred stays the same, and letters are drawn often.
-        self._filled = tuple([(row.reach, row.filled(self)) for row in rows])
+        self._numbers, self._bottom = whole_lists([flat(self.spots), *[flat(row.filled(self)) for row in rows]])
 
     @classmethod
     def of(cls, width, rounds, parts=(), rows=()):
@@ -44,12 +45,12 @@ class Letter:
 
     def moved(self, setting):
         """The list of the places of all spots at a Setting of inner places."""
-        places = list(self.spots)
-        for reach, moves in self._filled:
-            scalar = reach(setting)
-            if scalar:
-                places = [(x + scalar * to_x, y + scalar * to_y) for (x, y), (to_x, to_y) in zip(places, moves)]
-        return places
+        scalars = [Ratio(1)]
+        for row in self._rows:
+            reach = row.reach
+            scalars.append(reach(setting))
+        tops, scale = blend(scalars, self._numbers)
+        return in_pairs(tops, scale * self._bottom)
 
     def __len__(self):
         return len(self.spots)

@@ -1,6 +1,6 @@
 """Pairs of numbers: points, moves and knots."""
 
-from betweenfaces.ratios import Ratio, is_number
+from betweenfaces.ratios import Ratio, is_number, share
 
 
 def is_point(value):
@@ -20,5 +20,4 @@ def is_still(move):
 
 def on_line(one, other, at):
     """The second number, where the first is `at`, on the straight line through two pairs of Ratios."""
-    slope = (other[1] - one[1]).over(other[0] - one[0])
-    return one[1] + slope * (at - one[0])
+    return one[1] + share(one[0], at, other[0]) * (other[1] - one[1])

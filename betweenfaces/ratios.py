@@ -125,6 +125,21 @@ def is_within(low, number, high):
     return not number.under(low) and not high.under(number)
 
 
+def put_into(low, number, high):
+    """The number if low <= number <= high, otherwise the nearer one of low and high, for Ratios."""
+    if number.under(low):
+        return low
+    return high if high.under(number) else number
+
+
+def share(foot, at, top):
+    """Which part of the way from foot to top leads from foot to at, for Ratios."""
+    # One Ratio in place of three: tents are asked often.
+    way = (at.top * foot.bottom - foot.top * at.bottom) * top.bottom
+    whole_way = (top.top * foot.bottom - foot.top * top.bottom) * at.bottom
+    return Ratio(way, whole_way)
+
+
 def is_stretch(low, inside, high):
     """Whether any three values are numbers with low <= inside <= high and low < high."""
     if not all([is_number(value) for value in (low, inside, high)]):

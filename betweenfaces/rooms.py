@@ -2,7 +2,7 @@
 
 from betweenfaces.axes import are_by_axis_names
 from betweenfaces.errors import InvalidRoom, UnknownAxis
-from betweenfaces.ratios import Ratio, greatest, is_number, is_stretch, is_within, least
+from betweenfaces.ratios import Ratio, greatest, is_number, is_stretch, is_within, least, put_into
 from betweenfaces.spans import spans_told
 
 
@@ -110,7 +110,7 @@ def _common(one, other):
     home = one[1] if other[1] is None else other[1]
     if home is None:
         return low, None, high
-    return low, least([greatest([low, home]), high]), high
+    return low, put_into(low, home, high), high
 
 
 def _words_of(spans):

@@ -2,7 +2,7 @@
 
 from betweenfaces.axes import are_by_axis_names
 from betweenfaces.errors import InvalidTent, UnknownAxis
-from betweenfaces.ratios import Ratio, is_stretch, is_within
+from betweenfaces.ratios import Ratio, is_stretch, is_within, share
 
 
 class Tent:
@@ -21,8 +21,7 @@ class Tent:
             return Ratio(1)
         if not is_within(self.start, at, self.end):
             return Ratio(0)
-        foot = self.start if at.under(self.peak) else self.end
-        return (at - foot).over(self.peak - foot)
+        return share(self.start if at.under(self.peak) else self.end, at, self.peak)
 
     def fits(self, axis):
         """Whether the tent lies on one side of the home of an axis, is 0 there and does not jump."""

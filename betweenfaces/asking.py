@@ -1,0 +1,45 @@
+"""The errors that are raised for settings, texts, letters and things that a design does not know."""
+
+from betweenfaces.errors import InvalidSetting, UnknownAxis, UnknownLetter
+from betweenfaces.ratios import is_within
+from betweenfaces.settings import Setting
+
+
+def check_setting(ends, setting):
+    """Raises what is wrong with any value as a setting of axes, a dict from names to their least and most."""
+    if not isinstance(setting, Setting):
+        raise InvalidSetting(None)
+    for name in setting:
+        if name not in ends:
+            raise UnknownAxis(name)
+    for name in sorted(ends):
+        least, most = ends[name]
+        if name not in setting or not is_within(least, setting[name], most):
+            raise InvalidSetting(name)
+
+
+def check_axes(stock, setting):
+    """Raises what is wrong with any value as a setting of a design."""
+    check_setting({axis.name: (axis.least, axis.most) for axis in stock.scales}, setting)
+
+
+def check_text(stock, text):
+    """Raises UnknownLetter for any value that is no text of a design's letters."""
+    if not isinstance(text, str):
+        raise UnknownLetter(text)
+    for sign in text:
+        check_name(stock, sign)
+
+
+def check_name(stock, name):
+    """Raises UnknownLetter for any value that is no letter of a design."""
+    if not isinstance(name, str) or name not in stock.glyphs:
+        raise UnknownLetter(name)
+
+
+def check_thing(stock, thing):
+    """Raises UnknownLetter for any value that is no thing of a design."""
+    if not isinstance(thing, str) or not 1 <= len(thing) <= 2:
+        raise UnknownLetter(thing)
+    if not all([name in stock.glyphs for name in thing]):
+        raise UnknownLetter(thing)

@@ -1,0 +1,31 @@
+"""Least places, and the hats that have their peaks there."""
+
+from betweenfaces.asking import check_name
+from betweenfaces.axes import Axis
+from betweenfaces.blends import flat
+from betweenfaces.ratios import Ratio, ascending
+from betweenfaces.sums import least_stops, summed
+from betweenfaces.tents import Tent
+from betweenfaces.tracks import Ground, whole_spans
+
+
+def hats(places, home):
+    """The list of tuples (place, tent) with the hat of each of some ascending places but the home."""
+    told = ascending(places)
+    before = [told[0], *told[:-1]]
+    behind = [*told[1:], told[-1]]
+    peaks = [(start, peak, end) for start, peak, end in zip(before, told, behind) if peak != Ratio.of(home)]
+    return [(peak, Tent(start, peak, end)) for start, peak, end in peaks]
+
+
+def own_places(design, name):
+    """A dict from the names of the axes to the least places, ahead of the bends, of the own functions of a letter."""
+    check_name(design.stock, name)
+    letter = design.stock.glyphs[name]
+    scales = [Axis(axis.name, least=axis.least, home=axis.home, most=axis.most) for axis in design.stock.scales]
+    tracks = Ground(scales, whole_spans(scales)).tracks([row.reach for row in letter.rows])
+    sums, _ = summed(tracks, flat(letter.spots), [(row.reach, flat(row.filled(letter))) for row in letter.rows])
+    least = {axis.name: ascending([axis.least, axis.home, axis.most]) for axis in scales}
+    for axis, track in tracks.items():
+        least[axis] = [track.stops[index] for index in least_stops(track, axis, sums)]
+    return least

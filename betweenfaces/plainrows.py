@@ -1,0 +1,56 @@
+"""Quantities and letters, written plainly in a room."""
+
+from betweenfaces.blends import flat, in_pairs
+from betweenfaces.hats import hats
+from betweenfaces.letters import Letter
+from betweenfaces.quantities import Quantity
+from betweenfaces.ratios import Ratio
+from betweenfaces.rows import FullRow
+from betweenfaces.sheets import split_rounds
+from betweenfaces.sums import least_stops, summed
+from betweenfaces.tents import Reach
+
+
+def quantity_on(ground, quantity):
+    """The plain quantity that has the values of a quantity on a ground."""
+    tracks = ground.tracks([reach for reach, _ in quantity.rows])
+    sums, bottom = summed(tracks, [quantity.home], [(reach, [delta]) for reach, delta in quantity.rows])
+    rows = [(reach, Ratio(tops[0], bottom)) for reach, tops in _plain_rows(tracks, sums)]
+    return Quantity.of(Ratio(sums[()][0], bottom), rows)
+
+
+def letter_on(ground, letter):
+    """The plain letter that is drawn as a letter on a ground, with the same parts."""
+    tracks = ground.tracks([row.reach for row in letter.rows])
+    moves = [(row.reach, flat(row.filled(letter))) for row in letter.rows]
+    sums, bottom = summed(tracks, flat(letter.spots), moves)
+    spots = in_pairs(sums[()], bottom)
+    rows = [FullRow(reach, in_pairs(tops, bottom)) for reach, tops in _plain_rows(tracks, sums)]
+    offsets = spots[len(spots) - len(letter.parts):]
+    parts = [(name, x, y) for (name, _, _), (x, y) in zip(letter.parts, offsets)]
+    return Letter.of(quantity_on(ground, letter.width), split_rounds(letter, spots), parts, rows)
+
+
+def _plain_rows(tracks, sums):
+    """The list of the reaches of hats and what they add, ascending by their peaks."""
+    tents = {name: _tents(track, least_stops(track, name, sums)) for name, track in tracks.items()}
+    kept = [peaks for peaks in sums if peaks and any(sums[peaks])]
+    kept = [peaks for peaks in kept if all([index in tents[name] for name, index in peaks])]
+    homes = {name: track.home for name, track in tracks.items()}
+    rows = []
+    for _, peaks in sorted([(_places(homes, peaks), peaks) for peaks in kept]):
+        rows.append((Reach.of({name: tents[name][index] for name, index in peaks}), sums[peaks]))
+    return rows
+
+
+def _tents(track, stops):
+    """A dict from the indexes of least stops, but that of the home, to their hats."""
+    told = hats([track.stops[index] for index in stops], track.stops[track.home])
+    indexes = [index for index in stops if index != track.home]
+    return {index: tent for index, (_, tent) in zip(indexes, told)}
+
+
+def _places(homes, peaks):
+    """The indexes of peaks on all axes, with the home on those that they lack."""
+    told = dict(peaks)
+    return [told.get(name, home) for name, home in homes.items()]

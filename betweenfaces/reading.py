@@ -1,0 +1,71 @@
+"""Told forms, read as tables."""
+
+from betweenfaces.blends import blend
+from betweenfaces.lists import choices_of, number_of
+from betweenfaces.ratios import Ratio, share
+from betweenfaces.tables import flat_value, spans_between, value_of
+
+
+class ToldTable:
+    """The values in the cells of a told form."""
+
+    def __init__(self, axes, table):
+        self.order = [name for name, _ in axes]
+        self.stops = [[place for place, _ in places] for _, places in axes]
+        self.marks = [[jump for _, jump in places] for _, places in axes]
+        self.is_pair = isinstance(table[0][0], Ratio)
+        self._spans = [spans_between(marks) for marks in self.marks]
+        self._table = table
+        self._cells = {}
+
+    def told(self, cell, corner):
+        """The value at a corner of a cell, told flatly."""
+        number = 0
+        for (low, high), at in zip(cell, corner):
+            if low != high:
+                number = 2 * number + (1 if at == high else 0)
+        return self._values(cell)[number]
+
+    def value_at(self, setting):
+        """The value at a setting."""
+        shape, tops, bottom = self.told_at(setting)
+        return value_of(shape, tops, bottom, self.is_pair)
+
+    def told_at(self, setting):
+        """The same, told flatly, but not in lowest terms."""
+        cell = []
+        weights = []
+        for name, stops, spans in zip(self.order, self.stops, self._spans):
+            low, high = _span_with(stops, spans, setting[name])
+            cell.append((low, high))
+            weights.append([Ratio(1)] if low == high else _shares(stops[low], setting[name], stops[high]))
+        values = self._values(tuple(cell))
+        scalars = [Ratio(1, bottom) for _, _, bottom in values]
+        for number, chosen in enumerate(choices_of(weights)):
+            for weight in chosen:
+                scalars[number] = scalars[number] * weight
+        tops, bottom = blend(scalars, [numbers for _, numbers, _ in values])
+        return values[0][0], tops, bottom
+
+    def _values(self, cell):
+        """The values at the corners of a cell, told flatly."""
+        if cell not in self._cells:
+            number = 0
+            for spans, span in zip(self._spans, cell):
+                number = number * len(spans) + number_of(spans, span)
+            self._cells[cell] = [flat_value(value) for value in self._table[number]]
+        return self._cells[cell]
+
+
+def _span_with(stops, spans, place):
+    """The first span, a pair of numbers of stops, to which a place belongs."""
+    held = [(low, high) for low, high in spans if not place.under(stops[low]) and not stops[high].under(place)]
+    # A jump has a span of its own, which stands between those that end there.
+    alone = [(low, high) for low, high in held if low == high]
+    return alone[0] if alone else held[0]
+
+
+def _shares(low, at, high):
+    """The weights of the two ends of a stretch at a place in it."""
+    part = share(low, at, high)
+    return [Ratio(1) - part, part]
