@@ -43,7 +43,9 @@ class Quantity:
                 raise UnknownAxis(name)
         value = self.home
         for reach, delta in self._rows:
-            value = value + reach(places) * delta
+            scalar = reach(places)
+            if scalar:
+                value = value + scalar * delta
         return value
 
     def __add__(self, other):

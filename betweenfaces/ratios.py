@@ -12,7 +12,10 @@ class Ratio:
     """The fraction top over bottom, in lowest terms, with a positive bottom."""
 
     def __init__(self, top, bottom=1):
-        if not is_integer(top) or not is_integer(bottom) or bottom == 0:
+        # Numbers are made often: these are the words of is_integer, without its calls.
+        if not isinstance(top, int) or not isinstance(bottom, int) or bottom == 0:
+            raise InvalidRatio()
+        if isinstance(top, bool) or isinstance(bottom, bool):
             raise InvalidRatio()
         shared = gcd(top, bottom)
         if bottom < 0:

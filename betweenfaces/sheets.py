@@ -12,6 +12,7 @@ class Sheet:
         # A letter may be asked for often: in a text, as a part, and at a corner of many cells.
         self._outlines = {}
         self._widths = {}
+        self._shifts = {}
 
     def outline(self, name):
         """The outline of a letter, a new list of new lists of points."""
@@ -27,7 +28,9 @@ class Sheet:
         """The shift of a pair."""
         if pair not in self._stock.shifts:
             return Ratio(0)
-        return self._stock.shifts[pair].at(self._inner)
+        if pair not in self._shifts:
+            self._shifts[pair] = self._stock.shifts[pair].at(self._inner)
+        return self._shifts[pair]
 
     def value(self, drawn):
         """The value of a thing that is drawn as this letter, or these two."""

@@ -2,7 +2,7 @@
 
 from betweenfaces.axes import are_by_axis_names
 from betweenfaces.errors import InvalidTent, UnknownAxis
-from betweenfaces.ratios import Ratio, is_stretch, is_within, share
+from betweenfaces.ratios import Ratio, is_stretch, share
 
 
 class Tent:
@@ -14,13 +14,14 @@ class Tent:
         self.start = Ratio.of(start)
         self.peak = Ratio.of(peak)
         self.end = Ratio.of(end)
+        self._nothing = Ratio(0)
 
     def __call__(self, place):
         at = Ratio.of(place)
         if at == self.peak:
             return Ratio(1)
-        if not is_within(self.start, at, self.end):
-            return Ratio(0)
+        if not self.start.under(at) or not at.under(self.end):
+            return self._nothing
         return share(self.start if at.under(self.peak) else self.end, at, self.peak)
 
     def fits(self, axis):
@@ -76,10 +77,12 @@ class Reach:
         for name in self._names:
             if name not in places:
                 raise UnknownAxis(name)
-        scalar = Ratio(1)
-        for name in self._names:
-            tent = self._tents[name]
-            scalar = scalar * tent(places[name])
+        scalar = None
+        for name, tent in self._tents.items():
+            own = tent(places[name])
+            if not own:
+                return own
+            scalar = own if scalar is None else scalar * own
         return scalar
 
     def fits(self, axes):

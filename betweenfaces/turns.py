@@ -49,7 +49,8 @@ def jumps_at(table, side, at, crossing, corner):
 def bends_at(table, side, at, crossing, corner):
     """Whether some number has another slope below a place than above it at a corner of a crossing."""
     below, above = _with(crossing, side, (at - 1, at)), _with(crossing, side, (at, at + 1))
-    told = [table.told(cell, _with(corner, side, stop)) for cell, stop in ((below, at - 1), (below, at), (above, at + 1))]
+    ends = [(below, at - 1), (below, at), (above, at + 1)]
+    told = [table.told(cell, _with(corner, side, stop)) for cell, stop in ends]
     stops = table.stops[side]
     rise, fall = Ratio(1).over(stops[at] - stops[at - 1]), Ratio(1).over(stops[at + 1] - stops[at])
     bottoms = [Ratio(1, bottom) for _, _, bottom in told]

@@ -100,11 +100,9 @@ class Maker:
         return Design(axes, told, pairs=pairs, swaps=made)
 
     def place(self, axis):
-        """A told place: an end, the home, a whole number or something between."""
-        least, most = int(str(axis.least)), int(str(axis.most))
-        if self.chance.random() < 0.6:
-            return Ratio(self.chance.randint(2 * least, 2 * most), 2)
-        return Ratio(self.chance.randint(7 * least, 7 * most), 7)
+        """A told place: an end, a place at which something may turn, or one between."""
+        parts = 2 * self.steps if self.chance.random() < 0.6 else 7 * self.steps
+        return axis.least + (axis.most - axis.least) * Ratio(self.chance.randint(0, parts), parts)
 
     def setting(self, axes):
         return Setting.of({axis.name: self.place(axis) for axis in axes})
