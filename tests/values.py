@@ -3,6 +3,8 @@
 import unittest
 
 from betweenfaces.axes import Axis
+from betweenfaces.changes import Change, Cut, Leave
+from betweenfaces.designs import Design
 from betweenfaces.errors import InvalidTent, UnknownAxis
 from betweenfaces.letters import Letter
 from betweenfaces.quantities import Quantity
@@ -36,7 +38,7 @@ def odd_values():
         Axis("w", least=0, home=0, most=1), Setting(), Setting(w=1), Room(), Room(w=(0, 1)), Tent(0, 1, 1), reach,
         Quantity(1), Quantity(1, (reach, 2)), FullRow(reach, []), SparseRow(reach, {}), Letter(Quantity(1)),
         Letter(Quantity(1), [(0, 0)]), (reach, 1), (1, reach), [(reach, 1)], [Quantity(1)], InvalidTent(),
-        UnknownAxis("w"),
+        UnknownAxis("w"), Change(), Cut(Room()), Leave("a"), Design([], {"a": Letter(Quantity(1))}), [Change()],
     ]
 
 
