@@ -62,7 +62,7 @@ def _is_form(raw, value):
         return False
     if not all([_is_axis(raw, side, axis) for side, axis in enumerate(axes)]):
         return False
-    spans = [spans_between([jump for _, jump in places]) for _, places in axes]
+    spans = [spans_between([jump for _, jump in places]) for name, places in axes]
     many = 1
     for own in spans:
         many = many * len(own)

@@ -11,8 +11,8 @@ class ToldTable:
 
     def __init__(self, axes, table):
         self.order = [name for name, _ in axes]
-        self.stops = [[place for place, _ in places] for _, places in axes]
-        self.marks = [[jump for _, jump in places] for _, places in axes]
+        self.stops = [[place for place, _ in places] for name, places in axes]
+        self.marks = [[jump for _, jump in places] for name, places in axes]
         self.is_pair = isinstance(table[0][0], Ratio)
         self._spans = [spans_between(marks) for marks in self.marks]
         self._table = table
@@ -24,7 +24,7 @@ class ToldTable:
         for (low, high), at in zip(cell, corner):
             if low != high:
                 number = 2 * number + (1 if at == high else 0)
-        return self._values(cell)[number]
+        return self._corners(cell)[number]
 
     def value_at(self, setting):
         """The value at a setting."""
@@ -39,7 +39,7 @@ class ToldTable:
             low, high = _span_with(stops, spans, setting[name])
             cell.append((low, high))
             weights.append([Ratio(1)] if low == high else _shares(stops[low], setting[name], stops[high]))
-        values = self._values(tuple(cell))
+        values = self._corners(tuple(cell))
         scalars = [Ratio(1, bottom) for _, _, bottom in values]
         for number, chosen in enumerate(choices_of(weights)):
             for weight in chosen:
@@ -47,7 +47,7 @@ class ToldTable:
         tops, bottom = blend(scalars, [numbers for _, numbers, _ in values])
         return values[0][0], tops, bottom
 
-    def _values(self, cell):
+    def _corners(self, cell):
         """The values at the corners of a cell, told flatly."""
         if cell not in self._cells:
             number = 0

@@ -108,4 +108,5 @@ def inside_of(order, stops, cell):
 def _with_more(places, more):
     """Raw places and marks, and more places, ascending."""
     marks = [place for place, marked in places if marked]
-    return [(place, place in marks) for place in ascending([place for place, _ in places] + more)]
+    stops = ascending([place for place, _ in places] + more)
+    return [(stop, stop in marks) for stop in stops]

@@ -25,9 +25,7 @@ def jumps(table, side, at):
 
 
 def bends(table, side, at):
-    """Whether the thing bends at a place at which it does not jump, for some places on the other axes."""
-    if at == 0 or at + 1 == len(table.stops[side]):
-        return False
+    """Whether the thing bends at a place within, at which it does not jump, for some places on the other axes."""
     for crossing in crossings(table, side):
         for corner in corners_of(crossing):
             if bends_at(table, side, at, crossing, corner):

@@ -80,6 +80,87 @@ def property_faults(texts):
                   for rule, line in _property_use(node, told, fixed))
 
 
+def package_faults(texts):
+    """The list of (rule, file, line) of what breaks a rule about names and generators of the whole package."""
+    trees = {name: ast.parse(text) for name, text in texts.items()}
+    functions = [node for tree in trees.values() for node in ast.walk(tree) if isinstance(node, ast.FunctionDef)]
+    generators = {node.name for node in functions if any(isinstance(part, (ast.Yield, ast.YieldFrom)) for part in ast.walk(node))}
+    many = [node.name for node in functions]
+    found = [("L23", name, 1) for name in generators if many.count(name) > 1]
+    for name, tree in trees.items():
+        found += [(rule, name, line) for rule, line in _local_names(tree) + _stars(tree) + _shadows(tree)]
+        found += [("L23", name, line) for line in _kept_generators(tree, generators)]
+        found += [("L18", name, node.lineno) for node in ast.walk(tree) if isinstance(node, ast.ClassDef) and _both(node)]
+    return sorted(set(found))
+
+
+def _local_names(tree):
+    """Parameters and variables that have the name of a class or an import of the file."""
+    told = {part.name for node in tree.body if isinstance(node, ast.ImportFrom) for part in node.names}
+    told |= {node.name for node in tree.body if isinstance(node, ast.ClassDef)}
+    bound = [(node.arg, node.lineno) for node in ast.walk(tree) if isinstance(node, ast.arg)]
+    bound += [(node.id, node.lineno) for node in ast.walk(tree) if isinstance(node, ast.Name) and isinstance(node.ctx, ast.Store)]
+    return [("L15", line) for name, line in bound if name in told]
+
+
+def _stars(tree):
+    """Stars in calls behind which stands something else than a name, an attribute of a name, or a literal list."""
+    found = []
+    for node in [node for node in ast.walk(tree) if isinstance(node, ast.Call)]:
+        starred = [one.value for one in node.args if isinstance(one, ast.Starred)]
+        starred += [one.value for one in node.keywords if one.arg is None]
+        for one in starred:
+            plain = isinstance(one, ast.Name) or (isinstance(one, ast.Attribute) and isinstance(one.value, ast.Name))
+            found += [] if plain else [("L7", node.lineno)]
+    return found
+
+
+COMPREHENSIONS = (ast.ListComp, ast.SetComp, ast.DictComp, ast.GeneratorExp)
+
+
+def _targets(node):
+    return {part.id for own in node.generators for part in ast.walk(own.target) if isinstance(part, ast.Name)}
+
+
+def _shadows(tree):
+    """Comprehensions within comprehensions that assign a name that is assigned further out."""
+    found = []
+    for function in [node for node in ast.walk(tree) if isinstance(node, ast.FunctionDef)]:
+        outer = {part.arg for part in ast.walk(function.args) if isinstance(part, ast.arg)}
+        inside = {id(part) for node in ast.walk(function) if isinstance(node, COMPREHENSIONS) for part in ast.walk(node)}
+        outer |= {node.id for node in ast.walk(function) if isinstance(node, ast.Name) and isinstance(node.ctx, ast.Store)
+                  and id(node) not in inside}
+        for node in [node for node in ast.walk(function) if isinstance(node, COMPREHENSIONS)]:
+            within = [part for part in ast.walk(node) if isinstance(part, COMPREHENSIONS) and part is not node]
+            found += [("L7", part.lineno) for part in within if _targets(part) & (outer | _targets(node))]
+    return found
+
+
+def _kept_generators(tree, generators):
+    """Calls of generators that are not iterated on the spot."""
+    iterated = set()
+    for node in ast.walk(tree):
+        if isinstance(node, ast.For):
+            iterated.add(id(node.iter))
+        if isinstance(node, COMPREHENSIONS):
+            iterated |= {id(own.iter) for own in node.generators}
+        if isinstance(node, ast.Call) and isinstance(node.func, ast.Name) and node.func.id in ("list", "tuple", "any", "all", "sum"):
+            iterated |= {id(one) for one in node.args}
+    calls = [node for node in ast.walk(tree) if isinstance(node, ast.Call)]
+    named = [node for node in calls if (isinstance(node.func, ast.Name) and node.func.id in generators)
+             or (isinstance(node.func, ast.Attribute) and node.func.attr in generators)]
+    return [node.lineno for node in named if id(node) not in iterated]
+
+
+def _both(node):
+    """Whether a name is a method and an attribute of a class."""
+    methods = {part.name for part in node.body if isinstance(part, ast.FunctionDef)}
+    assigned = {part.attr for part in ast.walk(node) if isinstance(part, ast.Attribute) and isinstance(part.ctx, ast.Store)
+                and isinstance(part.value, ast.Name) and part.value.id == "self"}
+    setters = {part.name for part in node.body if isinstance(part, ast.FunctionDef) and part.decorator_list}
+    return (methods - setters) & assigned
+
+
 def _properties(trees):
     """The names of all properties, and of those that have no setter in some class."""
     told, fixed = set(), set()

@@ -2,14 +2,11 @@
 
 from betweenfaces.changes import Change, Cut, Flatten, Join, Leave, Sparse, changed
 from betweenfaces.cutting import cut
-from betweenfaces.designs import Design
 from betweenfaces.errors import InvalidChange, InvalidDesign, InvalidJoin, InvalidRoom, Needed, UnknownAxis, UnknownLetter
 from betweenfaces.flatten import flattened
 from betweenfaces.joining import joined
 from betweenfaces.leaving import wanted, without
-from betweenfaces.letters import Letter
 from betweenfaces.plain import plain
-from betweenfaces.quantities import Quantity
 from betweenfaces.rooms import Room
 from betweenfaces.settings import Setting
 from betweenfaces.sparse import sparse
@@ -18,7 +15,7 @@ from tests.examples import HALF, drawn_design, flattening_design
 from tests.makers import Maker
 from tests.test_cutting import some_room
 from tests.test_joining import renamed
-from tests.values import Case, kind_of, odd_values
+from tests.values import Case, odd_values
 
 
 class Changes(Case):

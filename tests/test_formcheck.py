@@ -12,7 +12,7 @@ from betweenfaces.quantities import Quantity
 from betweenfaces.ratios import Ratio
 from betweenfaces.settings import Setting
 from betweenfaces.tents import Reach, Tent
-from tests.examples import HALF, UP, axis_w, drawn_design, jumping_design
+from tests.examples import HALF, axis_w, drawn_design, jumping_design
 from tests.makers import Maker
 from tests.oracle import fraction
 from tests.plainly import turn_by_hand
@@ -113,6 +113,24 @@ class CheckForm(Case):
         # And one at a single place between.
         design = Design([axis_w()], letters, swaps=[({"w": (HALF, HALF)}, {"a": "b"})])
         self.assertIs(check_form(design, "a", ([("w", [(Ratio(0), False), (Ratio(1), False)])], [[five, five]])), False)
+
+    def test_a_jump_at_a_single_place(self):
+        letters = {"a": Letter(Quantity(5)), "b": Letter(Quantity(6))}
+        design = Design([axis_w()], letters, swaps=[({"w": (HALF, HALF)}, {"a": "b"})])
+        five, six = ([], Ratio(5)), ([], Ratio(6))
+        told = ([("w", [(Ratio(0), False), (HALF, True), (Ratio(1), False)])], [[five, five], [six], [five, five]])
+        self.same(form(design, "a"), told)
+        self.assertIs(check_form(design, "a", told), True)
+
+    def test_places_that_lack(self):
+        design = Design([axis_w()], {"c": Letter(Quantity(5, (Reach(w=Tent(0, HALF, 1)), 2)))})
+        zero, five, seven = Ratio(0), ([], Ratio(5)), ([], Ratio(7))
+        self.assertIs(check_form(design, "c", ([("w", [(zero, False), (HALF, False), (Ratio(1), False)])],
+                                               [[five, seven], [seven, five]])), True)
+        for places, table in (([], []), ([(zero, False), (HALF, False)], [[five, seven]]), ([(zero, False)], []),
+                              ([(HALF, False), (Ratio(1), False)], [[seven, five]]), ([], [[five]]),
+                              ([(Ratio(1), False), (zero, False)], [[five, five]]), ([(zero, False), (zero, False)], [[five, five]])):
+            self.assertIs(check_form(design, "c", ([("w", places)], table)), False)
 
     def test_a_bend_that_is_left_out(self):
         letters = {"c": Letter(Quantity(5, (Reach(w=Tent(0, HALF, 1)), 2)))}
@@ -217,7 +235,14 @@ class CheckReason(Case):
             self.assertIs(self.told(design, "i", told), False)
 
     def test_a_bend_beyond_the_ends(self):
-        design = Design([axis_w()], {"a": Letter(Quantity(0, (UP, 1)))})
-        for place in (Ratio(0), Ratio(1), HALF, Ratio(2), Ratio(-1)):
-            for word in ("bend", "jump"):
-                self.assertIs(self.told(design, "a", ("w", place, word, Setting())), False)
+        third = Ratio(1, 3)
+        for tent in (Tent(0, 1, 1), Tent(0, third, 1), Tent(0, third, HALF)):
+            design = Design([axis_w()], {"a": Letter(Quantity(0, (Reach(w=tent), 1)))})
+            for place in (Ratio(0), Ratio(1), Ratio(2, 3), Ratio(2), Ratio(-1)):
+                for word in ("bend", "jump"):
+                    self.assertIs(self.told(design, "a", ("w", place, word, Setting())), False)
+
+    def test_an_axis_that_the_design_lacks(self):
+        for name in ("x", "", None, 1, ("w",)):
+            for setting in (Setting(w=HALF), Setting(), Setting(x=HALF)):
+                self.assertIs(self.told(jumping_design(), "i", (name, HALF, "jump", setting)), False)

@@ -260,6 +260,32 @@ class Reasons(Case):
         others = {"v": fraction(found[0][3]["v"])}
         self.assertEqual(turn_by_hand(design, "a", "w", fraction(HALF), others), "jump")
 
+    def test_a_jump_at_which_the_values_meet_in_one_place(self):
+        # a is as wide as v tells, b 1/3: they are equal at v 1/3, or at v 2/3.
+        axes = [Axis("v", least=0, home=0, most=1), axis_w()]
+        for meet in (Ratio(1, 3), Ratio(2, 3)):
+            letters = letters_with(a=Quantity(0, (Reach(v=Tent(0, 1, 1)), 1)), b=Quantity(meet))
+            design = Design(axes, letters, swaps=[({"w": (HALF, 1)}, {"a": "b"})])
+            jump = reasons(design, "a")[0]
+            self.assertEqual(jump[:3], ("w", HALF, "jump"))
+            self.assertEqual(turn_by_hand(design, "a", "w", fraction(HALF), {"v": fraction(jump[3]["v"])}), "jump")
+        # The hill of w is taken back at v 1/3.
+        hill = Reach(w=Tent(0, HALF, 1))
+        rows = [(hill, -1), (Reach(w=Tent(0, HALF, 1), v=Tent(0, 1, 1)), 3)]
+        design = Design(axes, letters_with(a=Quantity(0, *rows)))
+        bend = reasons(design, "a")[0]
+        self.assertEqual(bend[:3], ("w", HALF, "bend"))
+        self.assertEqual(turn_by_hand(design, "a", "w", fraction(HALF), {"v": fraction(bend[3]["v"])}), "bend")
+
+    def test_three_axes(self):
+        for seed in range(6):
+            design = Maker(seed, steps=2).design(names="xyz", letters="ab")
+            for thing in ("b", "ab"):
+                for name, place, word, setting in reasons(design, thing):
+                    self.assertEqual(list(setting), [other for other in "xyz" if other != name])
+                    others = {other: fraction(setting[other]) for other in setting}
+                    self.assertEqual(turn_by_hand(design, thing, name, fraction(place), others), word)
+
     def test_new_each_time(self):
         reasons(jumping_design(), "i").clear()
         self.assertEqual(len(reasons(jumping_design(), "i")), 1)

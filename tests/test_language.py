@@ -3,7 +3,7 @@
 import pathlib
 import unittest
 
-from tests.language import cycles, faults, own_names, property_faults
+from tests.language import cycles, faults, own_names, package_faults, property_faults
 
 FOLDER = pathlib.Path(__file__).resolve().parent.parent / "betweenfaces"
 WRONG = {
@@ -39,6 +39,17 @@ WRONG_BY_NAME = {
 }
 
 
+STEPS = "def steps(x):\n    yield x\n"
+WRONG_IN_THE_PACKAGE = {
+    "L15": ["from betweenfaces.a import steps\n\n\ndef f(steps):\n    return 1\n", "class A:\n    pass\n\n\ndef f():\n    A = 1\n"],
+    "L7": ["def f(x):\n    return f(*x.y.z)\n", "def f(x):\n    return f(**x[0])\n", "def f(x):\n    return f(*f(x))\n",
+           "def f(xs):\n    return [[x for x in xs] for x in xs]\n", "def f(xs):\n    return [[xs for xs in x] for x in xs]\n"],
+    "L23": ["def f(x):\n    return steps(x)\n", "def f(x):\n    y = steps(x)\n", "def f(x):\n    return f(steps(x))\n",
+            "class A:\n    def steps(self):\n        return 1\n"],
+    "L18": ["class A:\n    def __init__(self):\n        self.n = 1\n\n    def n(self):\n        return 1\n"],
+}
+
+
 class Language(unittest.TestCase):
     def setUp(self):
         self.files = sorted(path for path in FOLDER.rglob("*") if "__pycache__" not in path.parts)
@@ -68,6 +79,17 @@ class Language(unittest.TestCase):
         self.assertEqual(property_faults({"a.py": SET, "b.py": WRONG_BY_NAME["L5"][0]}), [])
         both = {"a.py": SET, "b.py": FIXED, "c.py": WRONG_BY_NAME["L5"][0]}
         self.assertEqual(property_faults(both), [("L5", "c.py", 3)])
+
+    def test_the_files_keep_the_rules_of_names_and_generators(self):
+        self.assertEqual(package_faults({path.name: path.read_text() for path in self.files}), [])
+
+    def test_what_breaks_a_rule_of_names_and_generators_is_found(self):
+        for rule, texts in WRONG_IN_THE_PACKAGE.items():
+            for text in texts:
+                told = package_faults({"a.py": STEPS, "b.py": text})
+                self.assertEqual({found for found, name, line in told}, {rule}, text)
+        right = "def f(x):\n    for one in steps(x):\n        pass\n    return [y for y in steps(x)] + list(steps(x))\n"
+        self.assertEqual(package_faults({"a.py": STEPS, "b.py": right}), [])
 
     def test_what_breaks_a_rule_is_found(self):
         for rule, texts in WRONG.items():
