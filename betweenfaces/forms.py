@@ -63,7 +63,7 @@ def _values(raw, kept, cell):
         else:
             sides.append([((first, first + 1), first), ((last - 1, last), last)])
     corners = choices_of(sides)
-    return [raw.value(tuple([span for span, _ in ends]), tuple([at for _, at in ends])) for ends in corners]
+    return [raw.continued(tuple([span for span, _ in ends]), tuple([at for _, at in ends])) for ends in corners]
 
 
 def _reason(stock, thing, raw, side, place):

@@ -30,7 +30,7 @@ class RawTable:
         self._sheets = {}
         self._values = {}
 
-    def value(self, cell, corner):
+    def continued(self, cell, corner):
         """The value at a corner, continued from a cell; its lists are new."""
         return self._sheet(corner).value(self.drawn(cell))
 

@@ -2,7 +2,7 @@
 
 import itertools
 
-from betweenfaces.errors import InvalidRoom, InvalidText, UnknownAxis
+from betweenfaces.errors import InvalidRoom, InvalidText
 from betweenfaces.ratios import Ratio
 from betweenfaces.rooms import Room
 from betweenfaces.settings import Setting
