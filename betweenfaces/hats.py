@@ -1,7 +1,6 @@
 """Least places, and the hats that have their peaks there."""
 
 from betweenfaces.asking import check_name
-from betweenfaces.axes import Axis
 from betweenfaces.blends import flat
 from betweenfaces.ratios import Ratio, ascending
 from betweenfaces.sums import least_stops, summed
@@ -19,10 +18,10 @@ def hats(places, home):
 
 
 def own_places(design, name):
-    """A dict from the names of the axes to the least places, ahead of the bends, of the own functions of a letter."""
+    """A dict from the names of the axes to the least places, told ones, of the own functions of a letter."""
     check_name(design.stock, name)
     letter = design.stock.glyphs[name]
-    scales = [Axis(axis.name, least=axis.least, home=axis.home, most=axis.most) for axis in design.stock.scales]
+    scales = design.stock.scales
     tracks = Ground(scales, whole_spans(scales)).tracks([row.reach for row in letter.rows])
     sums, _ = summed(tracks, flat(letter.spots), [(row.reach, flat(row.filled(letter))) for row in letter.rows])
     least = {axis.name: ascending([axis.least, axis.home, axis.most]) for axis in scales}

@@ -43,17 +43,22 @@ def _spread(tracks, reach):
     spread = {(): Ratio(1)}
     for name in reach:
         track = tracks[name]
-        scalars = track.scalars(reach[name])
-        at_home = scalars[track.home]
-        rises = [(index, scalar - at_home) for index, scalar in enumerate(scalars) if scalar != at_home]
-        wider = {}
-        for peaks, scalar in spread.items():
-            if at_home:
-                wider[peaks] = scalar * at_home
-            for index, rise in rises:
-                wider[(*peaks, (name, index))] = scalar * rise
-        spread = wider
+        spread = _widened(spread, name, track.scalars(reach[name]), track.home)
     return spread
+
+
+def _widened(spread, name, scalars, home):
+    """What peaks add, with the scalars at the stops of one more axis, of which one is its home."""
+    at_home = scalars[home]
+    rises = [(index, scalar - at_home) for index, scalar in enumerate(scalars) if scalar != at_home]
+    wider = {}
+    for peaks, scalar in spread.items():
+        if at_home:
+            wider[peaks] = scalar * at_home
+        for index, rise in rises:
+            reached = (*peaks, (name, index))
+            wider[reached] = scalar * rise
+    return wider
 
 
 def _lines(name, sums):

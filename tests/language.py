@@ -45,7 +45,7 @@ def faults(text, own=()):
     for node in ast.walk(tree):
         found += _statement(node) + _expression(node) + _names(node)
         if isinstance(node, ast.FunctionDef):
-            found += _function(node)
+            found += _function(node) + changed_in_loops(node)
         if isinstance(node, ast.ClassDef):
             found += _class(node)
         if isinstance(node, ast.Call) and isinstance(node.func, ast.Attribute):
@@ -161,6 +161,91 @@ def _both(node):
     return (methods - setters) & assigned
 
 
+MODIFIERS = {"append", "clear", "extend", "insert", "pop", "remove", "reverse", "setdefault", "update", "add", "discard", "sort"}
+HEAPS = {"heappush", "heappop", "heapify", "heapreplace", "heappushpop"}
+VIEWS = {"items", "keys", "values"}
+PASSED_ON = {"enumerate", "zip", "reversed", "map", "iter", "chain", "pairwise", "accumulate", "islice", "zip_longest", "product"}
+
+
+def changed_in_loops(function):
+    """The list of (rule, line) of what is changed in a loop or comprehension that goes over it, by any of its names."""
+    names = _one_thing(function)
+    found = []
+    for node in ast.walk(function):
+        if isinstance(node, (ast.For, *COMPREHENSIONS)):
+            iterated = [node.iter] if isinstance(node, ast.For) else [own.iter for own in node.generators]
+            walked = {_root(names, name) for one in iterated for name in _walked(one)}
+            found += [("L23", line) for name, line in _changes(node) if _root(names, name) in walked]
+    return found
+
+
+def _path(node):
+    """The text of what has a name: a variable, an attribute or an item."""
+    named = isinstance(node, (ast.Name, ast.Attribute)) or (isinstance(node, ast.Subscript) and not isinstance(node.slice, ast.Slice))
+    return [ast.unparse(node)] if named else []
+
+
+def _chosen(node):
+    """The texts of the named things that the value of an expression may be."""
+    if isinstance(node, ast.IfExp):
+        return _chosen(node.body) + _chosen(node.orelse)
+    if isinstance(node, ast.BoolOp):
+        return [name for one in node.values for name in _chosen(one)]
+    return _chosen(node.value) + _path(node.target) if isinstance(node, ast.NamedExpr) else _path(node)
+
+
+def _walked(node):
+    """The texts of the things that a loop over an expression goes over."""
+    if isinstance(node, ast.Call) and isinstance(node.func, ast.Attribute) and node.func.attr in VIEWS:
+        return _chosen(node.func.value)
+    if isinstance(node, ast.Call) and isinstance(node.func, ast.Name) and node.func.id in PASSED_ON:
+        return [name for one in node.args for name in _walked(one.value if isinstance(one, ast.Starred) else one)]
+    return _chosen(node)
+
+
+def _changes(loop):
+    """The pairs (text, line) of what is changed within a loop or comprehension."""
+    found = []
+    for node in ast.walk(loop):
+        written = isinstance(node, ast.Subscript) and isinstance(node.ctx, (ast.Store, ast.Del))
+        changed = _chosen(node.value) if written else []
+        changed += _path(node.target) if isinstance(node, ast.AugAssign) else []
+        if isinstance(node, ast.Call) and isinstance(node.func, ast.Attribute) and node.func.attr in MODIFIERS:
+            changed += _chosen(node.func.value)
+        if isinstance(node, ast.Call) and isinstance(node.func, ast.Name) and node.func.id in HEAPS:
+            changed += _chosen(node.args[0])
+        found += [(name, node.lineno) for name in changed]
+    return found
+
+
+def _one_thing(function):
+    """A dict that leads names of one thing to each other: a function assigns one of them to the other."""
+    names = {}
+    for node in ast.walk(function):
+        told = []
+        if isinstance(node, ast.Assign):
+            told = [(target, node.value) for target in node.targets]
+        elif isinstance(node, (ast.AnnAssign, ast.NamedExpr)) and node.value is not None:
+            told = [(node.target, node.value)]
+        elif isinstance(node, (ast.For, ast.comprehension)) and isinstance(node.iter, (ast.List, ast.Tuple)):
+            told = [(node.target, one) for one in node.iter.elts]
+        while told:
+            target, value = told.pop()
+            if isinstance(target, (ast.Tuple, ast.List)) and isinstance(value, (ast.Tuple, ast.List)):
+                told += list(zip(target.elts, value.elts))
+            for name in _path(target):
+                for other in _chosen(value):
+                    names[_root(names, name)] = _root(names, other)
+    return names
+
+
+def _root(names, name):
+    """The one name that stands for all names of a thing."""
+    while names.get(name, name) != name:
+        name = names[name]
+    return name
+
+
 def _properties(trees):
     """The names of all properties, and of those that have no setter in some class."""
     told, fixed = set(), set()
@@ -249,6 +334,11 @@ def _expression(node):
     if isinstance(node, (ast.BinOp, ast.AugAssign)) and isinstance(node.op, (ast.Div, ast.MatMult)):
         return [("L7", line)]
     if isinstance(node, (ast.GeneratorExp, ast.Await, ast.AsyncFunctionDef)):
+        return [("L7", line)]
+    # A star may stand in a list or a tuple, but not if that stands in an index, and not in a set.
+    if isinstance(node, ast.Subscript) and any(isinstance(part, ast.Starred) for part in ast.walk(node.slice)):
+        return [("L7", line)]
+    if isinstance(node, ast.Set) and any(isinstance(one, ast.Starred) for one in node.elts):
         return [("L7", line)]
     if isinstance(node, ast.Compare) and any(isinstance(op, (ast.Is, ast.IsNot)) for op in node.ops):
         plain = all(isinstance(one, ast.Constant) and one.value in (None, True, False) for one in node.comparators)

@@ -1,10 +1,9 @@
-"""Hats, least places and plain quantities, letters and designs: the points [18] to [22], the plain and the hats module."""
+"""Plain quantities, letters and designs: the points [18] to [22] and the plain module."""
 
 from betweenfaces.axes import Axis
 from betweenfaces.cells import value_at
 from betweenfaces.designs import Design
 from betweenfaces.errors import UnknownLetter
-from betweenfaces.hats import hats, own_places
 from betweenfaces.letters import Letter
 from betweenfaces.plain import plain, plain_letter, plain_quantity
 from betweenfaces.quantities import Quantity
@@ -27,53 +26,6 @@ def texts(quantity):
 
 def axis_to_4(name="w", home=0, bend=()):
     return Axis(name, least=0, home=home, most=4, bend=bend)
-
-
-class Hats(Case):
-    def test_the_example_of_the_document(self):
-        self.same(hats([0, 1, 4], 0), [(Ratio(1), Tent(0, 1, 4)), (Ratio(4), Tent(1, 4, 4))])
-
-    def test_hats_on_both_sides_of_the_home(self):
-        self.same(hats(places=[0, 1, Ratio(3), 4], home=Ratio(1)),
-                  [(Ratio(0), Tent(0, 0, 1)), (Ratio(3), Tent(1, 3, 4)), (Ratio(4), Tent(3, 4, 4))])
-        self.same(hats([0, HALF], HALF), [(Ratio(0), Tent(0, 0, HALF))])
-        self.same(hats([-1, 0, 1, 2], 2), [(Ratio(-1), Tent(-1, -1, 0)), (Ratio(0), Tent(-1, 0, 1)), (Ratio(1), Tent(0, 1, 2))])
-        places = [0, 1]
-        hats(places, 0).clear()
-        self.assertEqual((places, len(hats(places, 0))), ([0, 1], 1))
-
-    def test_each_hat_is_1_at_its_place_and_0_at_the_others(self):
-        places = [-2, -1, 0, Ratio(1, 3), 5, 6]
-        for home in places:
-            told_hats = hats(places, home)
-            self.assertEqual([place for place, _ in told_hats], [Ratio.of(place) for place in places if place != home])
-            for peak, tent in told_hats:
-                self.assertTrue(tent.fits(Axis("w", least=-2, home=home, most=6)))
-                for place in places:
-                    self.assertEqual(tent(place), Ratio(1 if Ratio.of(place) == peak else 0))
-
-
-class OwnPlaces(Case):
-    def test_ahead_of_the_bends_and_without_the_width_and_the_parts_points(self):
-        axes = [axis_to_4(bend=[(0, 0), (1, 2), (4, 4)]), Axis("v", least=0, home=1, most=2)]
-        a = Letter(Quantity(0, (Reach(w=Tent(0, 3, 4)), 1)), [(0, 0)], rows=[FullRow(Reach(w=Tent(0, 2, 4)), [(1, 0)])])
-        b = Letter(Quantity(0), parts=[("a", 0, 0)], rows=[FullRow(Reach(w=Tent(0, 1, 4)), [(1, 0)])])
-        c = Letter(Quantity(0), [(0, 0)], rows=[FullRow(Reach(w=Tent(0, 1, 4)), [(1, 0)]), FullRow(Reach(w=Tent(0, 1, 4)), [(-1, 0)])])
-        d = Letter(Quantity(0), [(0, 0)], rows=[SparseRow(Reach(w=Tent(0, 4, 4), v=Tent(0, 0, 1)), {0: (1, 0)})])
-        design = Design(axes, {"a": a, "b": b, "c": c, "d": d})
-        want = {"a": ["0", "2", "4"], "b": ["0", "1", "4"], "c": ["0", "4"], "d": ["0", "4"]}
-        for name, places in want.items():
-            told_places = own_places(design=design, name=name)
-            self.assertEqual([str(place) for place in told_places["w"]], places)
-            self.assertEqual([str(place) for place in told_places["v"]], ["0", "1", "2"])
-            self.assertEqual(list(told_places), ["v", "w"])
-        own_places(design, "a")["w"].clear()
-        self.assertEqual(len(own_places(design, "a")["w"]), 3)
-
-    def test_wrong_letters(self):
-        for value in odd_values():
-            if value != "a":
-                self.refused(UnknownLetter(value), own_places, Design([], {"a": Letter(Quantity(0))}), value)
 
 
 class PlainQuantities(Case):
