@@ -2,6 +2,7 @@
 
 from betweenfaces.asking import check_axes, check_name, check_text
 from betweenfaces.lists import entries_of
+from betweenfaces.pens import width_at
 from betweenfaces.settings import Setting
 from betweenfaces.sheets import Sheet
 
@@ -42,9 +43,7 @@ def width(design, setting, text):
     """The place of the pen at the end of a text."""
     check_axes(design.stock, setting)
     check_text(design.stock, text)
-    inner_places = design.stock.inner(setting)
-    sheet = Sheet(design.stock, inner_places)
-    return sheet.pens(design.stock.drawn_as(inner_places, text))[-1]
+    return width_at(design.stock, text, setting)
 
 
 def inner(design, setting):

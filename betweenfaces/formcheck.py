@@ -1,12 +1,11 @@
 """Checks, of any value, that it is the form of a thing, and that it tells why the form has a place."""
 
-from betweenfaces.asking import check_thing
+from betweenfaces.asking import check_thing, ends_of, is_setting
+from betweenfaces.grids import corners_of, spans_between
 from betweenfaces.lists import choices_of, number_of
 from betweenfaces.ratios import Ratio, ascending
 from betweenfaces.reading import ToldTable
-from betweenfaces.settings import Setting
-from betweenfaces.sheets import Sheet
-from betweenfaces.tables import RawTable, corners_of, flat_value, inside_of, spans_between
+from betweenfaces.tables import flat_value, raw_table
 from betweenfaces.there import turn_there
 from betweenfaces.turns import bends, jumps
 
@@ -14,12 +13,12 @@ from betweenfaces.turns import bends, jumps
 def check_form(design, thing, told):
     """Whether any value is the form of a thing."""
     check_thing(design.stock, thing)
-    raw = RawTable(design.stock, thing)
+    raw = raw_table(design.stock, thing)
     if not _is_form(raw, told):
         return False
     axes, table = told
     read = ToldTable(axes, table)
-    return _are_needed(read) and _are_values(design.stock, raw, read)
+    return _are_needed(read) and _are_values(raw, read)
 
 
 def check_reason(design, thing, told):
@@ -32,7 +31,7 @@ def check_reason(design, thing, told):
         return False
     if word == "jump":
         return True
-    raw = RawTable(design.stock, thing)
+    raw = raw_table(design.stock, thing)
     side = number_of(raw.order, name)
     at = number_of(raw.stops[side], place)
     return not raw.marks[side][at] or not jumps(raw, side, at)
@@ -43,14 +42,10 @@ def _is_reason(scales, value):
     if not isinstance(value, tuple) or len(value) != 4:
         return False
     name, place, word, setting = value
-    if not isinstance(place, Ratio) or not isinstance(setting, Setting):
-        return False
-    if not isinstance(word, str) or word not in ("jump", "bend"):
+    if not isinstance(place, Ratio) or not isinstance(word, str) or word not in ("jump", "bend"):
         return False
     others = [axis for axis in scales if axis.name != name]
-    if len(others) == len(scales) or setting.names != tuple([axis.name for axis in others]):
-        return False
-    return all([axis.holds(setting[axis.name]) for axis in others])
+    return len(others) < len(scales) and is_setting(ends_of(others), setting)
 
 
 def _is_form(raw, value):
@@ -131,13 +126,25 @@ def _are_needed(read):
     return True
 
 
-def _are_values(stock, raw, read):
-    """Whether a told form has the values of a thing within all of its raw cells."""
-    for cell in choices_of([spans_between(marks) for marks in raw.marks]):
-        for setting in inside_of(raw.order, raw.stops, cell):
-            sheet = Sheet(stock, stock.inner(setting))
-            shape, tops, bottom = flat_value(sheet.value(raw.drawn(cell)))
-            other_shape, others, scale = read.told_at(setting)
-            if shape != other_shape or [top * scale for top in tops] != [top * bottom for top in others]:
-                return False
+def _are_values(raw, read):
+    """Whether a told form has the values of a thing within all of its raw cells.
+
+    It has them at the settings of `inner_settings` exactly if it has them, continued, at the corners; and these are
+    fewer, for cells that meet share them.
+    """
+    looked_at = {}
+    for cell in raw.all_cells():
+        told = read.cell_with(raw.middle(cell))
+        for corner in corners_of(cell):
+            if (raw.drawn(cell), told, corner) not in looked_at:
+                looked_at[(raw.drawn(cell), told, corner)] = True
+                if not _are_equal(raw.told(cell, corner), read.continued(told, raw.places_at(corner))):
+                    return False
     return True
+
+
+def _are_equal(value, other):
+    """Whether two values that are told flatly are equal, though not both need be in lowest terms."""
+    shape, tops, bottom = value
+    other_shape, others, scale = other
+    return shape == other_shape and [top * scale for top in tops] == [top * bottom for top in others]

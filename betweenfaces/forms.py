@@ -1,9 +1,10 @@
 """Forms: what tells how a thing is drawn, however the design says it."""
 
 from betweenfaces.asking import check_setting, check_thing
-from betweenfaces.lists import choices_of
+from betweenfaces.grids import corners_of, inside_of, spans_between
+from betweenfaces.lists import choices_of, without_item
 from betweenfaces.reading import ToldTable
-from betweenfaces.tables import RawTable, corners_of, inside_of, spans_between
+from betweenfaces.tables import raw_table
 from betweenfaces.there import turn_there
 from betweenfaces.turns import bends_at, crossings, jumps_at, kept_places
 
@@ -11,7 +12,7 @@ from betweenfaces.turns import bends_at, crossings, jumps_at, kept_places
 def form(design, thing):
     """The form of a thing: (axes, table)."""
     check_thing(design.stock, thing)
-    raw = RawTable(design.stock, thing)
+    raw = raw_table(design.stock, thing)
     kept = kept_places(raw)
     axes = []
     for name, stops, places in zip(raw.order, raw.stops, kept):
@@ -27,11 +28,16 @@ def forms(design):
     for one in stock.glyphs:
         for other in stock.glyphs:
             pair = one + other
-            if any([drawn in stock.shifts for drawn in stock.pairs_may_be(pair)]):
+            if stock.has_shift(pair):
                 paper = form(design, pair)
-                if any([shift for values in paper[1] for shift in values]):
+                if is_shifted(paper):
                     told.append((pair, paper))
     return told
+
+
+def is_shifted(paper):
+    """Whether the form of a pair has a shift other than 0."""
+    return any([shift for shifts in paper[1] for shift in shifts])
 
 
 def at_form(told, setting):
@@ -44,7 +50,7 @@ def at_form(told, setting):
 def reasons(design, thing):
     """The list of tuples (axis, place, word, setting) that show why the form has its places and jumps."""
     check_thing(design.stock, thing)
-    raw = RawTable(design.stock, thing)
+    raw = raw_table(design.stock, thing)
     found = []
     for side, places in enumerate(kept_places(raw)):
         for at, jump in places:
@@ -70,8 +76,7 @@ def _reason(stock, thing, raw, side, place):
     """Why the form has a place (number, whether it is a jump)."""
     at, jump = place
     name, word = raw.order[side], "jump" if jump else "bend"
-    others = raw.order[:side] + raw.order[side + 1:]
-    stops = raw.stops[:side] + raw.stops[side + 1:]
+    others, stops = without_item(raw.order, side), without_item(raw.stops, side)
     turns_at = jumps_at if jump else bends_at
     for crossing in crossings(raw, side):
         if any([turns_at(raw, side, at, crossing, corner) for corner in corners_of(crossing)]):

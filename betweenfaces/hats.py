@@ -5,7 +5,7 @@ from betweenfaces.blends import flat
 from betweenfaces.ratios import Ratio, ascending
 from betweenfaces.sums import least_stops, summed
 from betweenfaces.tents import Tent
-from betweenfaces.tracks import Ground, whole_spans
+from betweenfaces.tracks import Ground, letter_rows, whole_spans
 
 
 def hats(places, home):
@@ -23,7 +23,7 @@ def own_places(design, name):
     letter = design.stock.glyphs[name]
     scales = design.stock.scales
     tracks = Ground(scales, whole_spans(scales)).tracks([row.reach for row in letter.rows])
-    sums, _ = summed(tracks, flat(letter.spots), [(row.reach, flat(row.filled(letter))) for row in letter.rows])
+    sums, _ = summed(tracks, flat(letter.spots), letter_rows(tracks, letter))
     least = {axis.name: ascending([axis.least, axis.home, axis.most]) for axis in scales}
     for axis, track in tracks.items():
         least[axis] = [track.stops[index] for index in least_stops(track, axis, sums)]

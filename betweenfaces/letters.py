@@ -14,7 +14,7 @@ class Letter:
     def __init__(self, width, *rounds, parts=(), rows=()):
         if not isinstance(width, Quantity):
             raise InvalidLetter("width")
-        if not all([_is_round(points) for points in rounds]):
+        if not are_rounds(rounds):
             raise InvalidLetter("rounds")
         if not _is_list(parts) or not all([_is_part(part) for part in parts]):
             raise InvalidLetter("parts")
@@ -64,6 +64,11 @@ class Letter:
 def is_letter_name(value):
     """Whether any value is one sign from a to z."""
     return isinstance(value, str) and len(value) == 1 and "a" <= value <= "z"
+
+
+def are_rounds(value):
+    """Whether any value is a list or tuple of rounds."""
+    return _is_list(value) and all([_is_round(points) for points in value])
 
 
 def _is_list(value):

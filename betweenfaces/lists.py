@@ -23,3 +23,13 @@ def choices_of(lists):
     for items in lists:
         told = [(*chosen, item) for chosen in told for item in items]
     return told
+
+
+def without_item(items, at):
+    """A tuple of the items of a list or tuple but the one at an index."""
+    return (*items[:at], *items[at + 1:])
+
+
+def with_item(items, at, item):
+    """A tuple of the items of a list or tuple, with one more at an index."""
+    return (*items[:at], item, *items[at:])

@@ -9,26 +9,36 @@ from betweenfaces.rows import FullRow
 from betweenfaces.sheets import split_rounds
 from betweenfaces.sums import least_stops, summed
 from betweenfaces.tents import Reach
+from betweenfaces.tracks import letter_rows, quantity_rows
 
 
 def quantity_on(ground, quantity):
     """The plain quantity that has the values of a quantity on a ground."""
     tracks = ground.tracks([reach for reach, _ in quantity.rows])
-    sums, bottom = summed(tracks, [quantity.home], [(reach, [delta]) for reach, delta in quantity.rows])
-    rows = [(reach, Ratio(tops[0], bottom)) for reach, tops in _plain_rows(tracks, sums)]
-    return Quantity.of(Ratio(sums[()][0], bottom), rows)
+    return plain_quantity_of(tracks, quantity.home, quantity_rows(tracks, quantity))
 
 
 def letter_on(ground, letter):
     """The plain letter that is drawn as a letter on a ground, with the same parts."""
     tracks = ground.tracks([row.reach for row in letter.rows])
-    moves = [(row.reach, flat(row.filled(letter))) for row in letter.rows]
-    sums, bottom = summed(tracks, flat(letter.spots), moves)
+    return plain_letter_of(tracks, letter, letter_rows(tracks, letter), quantity_on(ground, letter.width))
+
+
+def plain_quantity_of(tracks, home, rows):
+    """The plain quantity with a number ahead of all rows and what these add."""
+    sums, bottom = summed(tracks, [home], rows)
+    told = [(reach, Ratio(tops[0], bottom)) for reach, tops in _plain_rows(tracks, sums)]
+    return Quantity.of(Ratio(sums[()][0], bottom), told)
+
+
+def plain_letter_of(tracks, letter, rows, width):
+    """The plain letter of a width, with the spots of a letter ahead of all rows and what these add."""
+    sums, bottom = summed(tracks, flat(letter.spots), rows)
     spots = in_pairs(sums[()], bottom)
-    rows = [FullRow(reach, in_pairs(tops, bottom)) for reach, tops in _plain_rows(tracks, sums)]
+    told = [FullRow(reach, in_pairs(tops, bottom)) for reach, tops in _plain_rows(tracks, sums)]
     offsets = spots[len(spots) - len(letter.parts):]
     parts = [(name, x, y) for (name, _, _), (x, y) in zip(letter.parts, offsets)]
-    return Letter.of(quantity_on(ground, letter.width), split_rounds(letter, spots), parts, rows)
+    return Letter.of(width, split_rounds(letter, spots), parts, told)
 
 
 def _plain_rows(tracks, sums):

@@ -12,12 +12,22 @@ def told_places(axis, tents):
 
 def raw_places(stock, thing):
     """A dict that gives each axis the ascending list of the raw places of a thing: (place, whether it is a mark)."""
-    return _places(stock, stock.reaches(thing), stock.boxes(thing))
+    return places_for(stock, stock.reaches(thing), stock.boxes(thing))
 
 
 def all_places(stock):
     """The same for the raw places of all things of a design."""
-    return _places(stock, stock.all_reaches(), [box for box, _ in stock.rules])
+    return places_for(stock, stock.all_reaches(), [box for box, _ in stock.rules])
+
+
+def places_for(stock, reaches, boxes):
+    """The same for what depends on some reaches and boxes."""
+    places = {}
+    for axis in stock.scales:
+        name = axis.name
+        tents = [reach[name] for reach in reaches if name in reach]
+        places[name] = _places_on(axis, tents, [box[name] for box in boxes if name in box])
+    return places
 
 
 def spans_of(places):
@@ -51,16 +61,6 @@ def span_insides(span):
         return [low]
     third = (high - low) * Ratio(1, 3)
     return [low + third, high - third]
-
-
-def _places(stock, reaches, boxes):
-    """The raw places of what depends on some reaches and boxes."""
-    places = {}
-    for axis in stock.scales:
-        name = axis.name
-        tents = [reach[name] for reach in reaches if name in reach]
-        places[name] = _places_on(axis, tents, [box[name] for box in boxes if name in box])
-    return places
 
 
 def _places_on(axis, tents, stretches):

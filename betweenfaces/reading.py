@@ -1,9 +1,10 @@
 """Told forms, read as tables."""
 
 from betweenfaces.blends import blend
+from betweenfaces.grids import spans_between
 from betweenfaces.lists import choices_of, number_of
 from betweenfaces.ratios import Ratio, share
-from betweenfaces.tables import flat_value, spans_between, value_of
+from betweenfaces.tables import flat_value, value_of
 
 
 class ToldTable:
@@ -28,18 +29,20 @@ class ToldTable:
 
     def value_at(self, setting):
         """The value at a setting."""
-        shape, tops, bottom = self.told_at(setting)
+        shape, tops, bottom = self.continued(self.cell_with(setting), setting)
         return value_of(shape, tops, bottom, self.is_pair)
 
-    def told_at(self, setting):
-        """The same, told flatly, but not in lowest terms."""
-        cell = []
+    def cell_with(self, places):
+        """The cell to which told places belong."""
+        return tuple([_span_with(stops, spans, places[name])
+                      for name, stops, spans in zip(self.order, self.stops, self._spans)])
+
+    def continued(self, cell, places):
+        """The value at told places, continued from a cell, told flatly, but not in lowest terms."""
         weights = []
-        for name, stops, spans in zip(self.order, self.stops, self._spans):
-            low, high = _span_with(stops, spans, setting[name])
-            cell.append((low, high))
-            weights.append([Ratio(1)] if low == high else _shares(stops[low], setting[name], stops[high]))
-        values = self._corners(tuple(cell))
+        for name, stops, (low, high) in zip(self.order, self.stops, cell):
+            weights.append([Ratio(1)] if low == high else _shares(stops[low], places[name], stops[high]))
+        values = self._corners(cell)
         scalars = [Ratio(1, bottom) for _, _, bottom in values]
         for number, chosen in enumerate(choices_of(weights)):
             for weight in chosen:

@@ -47,9 +47,20 @@ class Stock:
         widths = [reach for name in drawn for reach, _ in self.glyphs[name].width.rows]
         return widths + [row.reach for name in self.with_parts(drawn) for row in self.glyphs[name].rows]
 
+    def width_reaches(self, text):
+        """The list of the reaches that the width of a text may depend on."""
+        names = sorted(set([name for sign in sorted(set(text)) for name in self.may_be(sign)]))
+        widths = [reach for name in names for reach, _ in self.glyphs[name].width.rows]
+        pairs = sorted(set([before + behind for before, behind in zip(text, text[1:])]))
+        return widths + [reach for pair in pairs for reach in self.reaches(pair)]
+
     def pairs_may_be(self, pair):
         """The list of the pairs of the letters that the two letters of a pair may be drawn as."""
         return [one + other for one in self.may_be(pair[0]) for other in self.may_be(pair[1])]
+
+    def has_shift(self, pair):
+        """Whether a pair may be drawn as one that has a shift."""
+        return any([drawn in self.shifts for drawn in self.pairs_may_be(pair)])
 
     def all_reaches(self):
         """The list of all reaches of the design."""

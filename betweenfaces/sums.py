@@ -13,13 +13,14 @@ from betweenfaces.ratios import Ratio, whole
 def summed(tracks, home, rows):
     """A dict from peaks to what they add, lists of integers, and the bottom of all of these.
 
-    The rows are pairs of a reach and a list of as many numbers as home has. No peaks add what stands at home.
+    The rows are pairs of a dict that gives some axes, by names, the scalars at their stops, and a list of as many
+    numbers as home has. No peaks add what stands at home.
     """
     lists, bottom = whole_lists([home, *[numbers for _, numbers in rows]])
     weights = {(): [Ratio(1)]}
     added = {(): [lists[0]]}
-    for (reach, _), numbers in zip(rows, lists[1:]):
-        for peaks, scalar in _spread(tracks, reach).items():
+    for (scalars, _), numbers in zip(rows, lists[1:]):
+        for peaks, scalar in _spread(tracks, scalars).items():
             weights.setdefault(peaks, []).append(scalar)
             added.setdefault(peaks, []).append(numbers)
     sums = {peaks: blend(weights[peaks], added[peaks]) for peaks in weights}
@@ -38,12 +39,11 @@ def least_stops(track, name, sums):
             if index in (0, track.home, last) or any([_turns(stops, line, index) for line in lines])]
 
 
-def _spread(tracks, reach):
+def _spread(tracks, scalars):
     """A dict from peaks to the scalars that they add."""
     spread = {(): Ratio(1)}
-    for name in reach:
-        track = tracks[name]
-        spread = _widened(spread, name, track.scalars(reach[name]), track.home)
+    for name, own in scalars.items():
+        spread = _widened(spread, name, own, tracks[name].home)
     return spread
 
 

@@ -1,7 +1,9 @@
 """How a thing turns at one place of an axis, with told places on the others."""
 
+from betweenfaces.grids import merged_places
 from betweenfaces.lists import number_of
-from betweenfaces.tables import RawTable
+from betweenfaces.raws import raw_places
+from betweenfaces.tables import ThingTable
 from betweenfaces.turns import bends_at, jumps_at
 
 
@@ -11,7 +13,9 @@ def turn_there(stock, thing, place, setting):
     The word is "jump" or "bend"; an empty one if it does not turn there.
     """
     name, number = place
-    table = RawTable(stock, thing, {other: [setting[other]] for other in setting})
+    raw = raw_places(stock, thing)
+    here = {other: [(setting[other], False)] if other in setting else [] for other in raw}
+    table = ThingTable(stock, thing, merged_places(raw, here))
     side = number_of(table.order, name)
     if number not in table.stops[side]:
         return ""

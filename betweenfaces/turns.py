@@ -4,15 +4,15 @@ The axis looked at is told by its number, the side; a crossing is a cell of the 
 corners.
 """
 
-from betweenfaces.lists import choices_of
+from betweenfaces.grids import corners_of, spans_between
+from betweenfaces.lists import choices_of, with_item, without_item
 from betweenfaces.ratios import Ratio, whole
-from betweenfaces.tables import corners_of, spans_between
 
 
 def crossings(table, side):
     """The list of the cells of the axes other than that of the side."""
     spans = [spans_between(marks) for marks in table.marks]
-    return choices_of(spans[:side] + spans[side + 1:])
+    return choices_of(without_item(spans, side))
 
 
 def jumps(table, side, at):
@@ -40,15 +40,15 @@ def jumps_at(table, side, at, crossing, corner):
         spans.append((at, at))
     if at + 1 < len(table.stops[side]):
         spans.append((at, at + 1))
-    told = [table.told(_with(crossing, side, span), _with(corner, side, at)) for span in spans]
+    told = [table.told(with_item(crossing, side, span), with_item(corner, side, at)) for span in spans]
     return any([value != told[0] for value in told])
 
 
 def bends_at(table, side, at, crossing, corner):
     """Whether some number has another slope below a place than above it at a corner of a crossing."""
-    below, above = _with(crossing, side, (at - 1, at)), _with(crossing, side, (at, at + 1))
+    below, above = with_item(crossing, side, (at - 1, at)), with_item(crossing, side, (at, at + 1))
     ends = [(below, at - 1), (below, at), (above, at + 1)]
-    told = [table.told(cell, _with(corner, side, stop)) for cell, stop in ends]
+    told = [table.told(cell, with_item(corner, side, stop)) for cell, stop in ends]
     stops = table.stops[side]
     rise, fall = Ratio(1).over(stops[at] - stops[at - 1]), Ratio(1).over(stops[at + 1] - stops[at])
     bottoms = [Ratio(1, bottom) for _, _, bottom in told]
@@ -68,8 +68,3 @@ def kept_places(table):
                 own.append((at, jump))
         kept.append(own)
     return kept
-
-
-def _with(items, side, item):
-    """A tuple for the other axes, with an item for the axis of the side."""
-    return (*items[:side], item, *items[side:])
