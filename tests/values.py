@@ -5,6 +5,7 @@ import unittest
 from betweenfaces.axes import Axis
 from betweenfaces.changes import Change, Cut, Leave
 from betweenfaces.designs import Design
+from betweenfaces.desk import Desk
 from betweenfaces.errors import InvalidTent, UnknownAxis
 from betweenfaces.letters import Letter
 from betweenfaces.quantities import Quantity
@@ -39,6 +40,7 @@ def odd_values():
         Quantity(1), Quantity(1, (reach, 2)), FullRow(reach, []), SparseRow(reach, {}), Letter(Quantity(1)),
         Letter(Quantity(1), [(0, 0)]), (reach, 1), (1, reach), [(reach, 1)], [Quantity(1)], InvalidTent(),
         UnknownAxis("w"), Change(), Cut(Room()), Leave("a"), Design([], {"a": Letter(Quantity(1))}), [Change()],
+        Desk(), Desk().tried("undo"),
     ]
 
 
