@@ -1,9 +1,11 @@
 """Checks, of any values, that two designs are alike, and that they are not."""
 
 from betweenfaces.asking import check_one_room, ends_of, is_setting
-from betweenfaces.cells import cells_of, inner_settings, value_at
-from betweenfaces.formcheck import check_form
+from betweenfaces.formcheck import is_form_on
 from betweenfaces.forms import is_shifted
+from betweenfaces.grids import corners_of
+from betweenfaces.sheets import Shelf
+from betweenfaces.tables import raw_table
 
 
 def check_unlike(one, other, setting, text):
@@ -22,14 +24,14 @@ def check_alike(one, other, papers):
     names = list(one)
     if names != list(other) or not _are_papers(names, papers):
         return False
-    for thing, paper in papers:
-        if not check_form(one, thing, paper) or not check_form(other, thing, paper):
-            return False
-        if len(thing) == 2 and not is_shifted(paper):
-            return False
     told = [thing for thing, _ in papers]
     others = [pair for pair in _pairs_of(names) if pair not in told]
-    return all([_is_without_shift(one, pair) and _is_without_shift(other, pair) for pair in others])
+    for shelf in (Shelf(one.stock), Shelf(other.stock)):
+        if not all([is_form_on(shelf, thing, paper) for thing, paper in papers]):
+            return False
+        if not all([_is_without_shift(shelf, pair) for pair in others]):
+            return False
+    return all([is_shifted(paper) for thing, paper in papers if len(thing) == 2])
 
 
 def _pairs_of(names):
@@ -47,11 +49,13 @@ def _are_papers(names, value):
     return things[len(names):] == [pair for pair in _pairs_of(names) if pair in things[len(names):]]
 
 
-def _is_without_shift(design, pair):
-    """Whether a pair has the shift 0 within all of its raw cells."""
-    if not design.stock.has_shift(pair):
+def _is_without_shift(shelf, pair):
+    """Whether a pair has the shift 0 within all of its raw cells.
+
+    It has it at the settings of `inner_settings` exactly if it has it, continued, at the corners.
+    """
+    stock = shelf.stock
+    if not stock.has_shift(pair):
         return True
-    for cell in cells_of(design, pair):
-        if any([value_at(design, pair, setting) for setting in inner_settings(cell)]):
-            return False
-    return True
+    raw = raw_table(shelf, pair)
+    return not any([raw.continued(cell, corner) for cell in raw.all_cells() for corner in corners_of(cell)])

@@ -4,17 +4,19 @@ from betweenfaces.asking import check_text, ends_of, is_setting
 from betweenfaces.gaps import GapTable, gap_at
 from betweenfaces.ratios import Ratio, is_integer
 from betweenfaces.settings import Setting
+from betweenfaces.sheets import Shelf
 
 
 def clear(design, text, gap):
     """None if all neighbours are clear by a gap; otherwise a setting and the index of a letter that is not."""
     check_text(design.stock, text)
+    shelf = Shelf(design.stock)
     looked_at = {}
     for index in range(len(text) - 1):
         pair = text[index:index + 2]
         if pair not in looked_at:
             looked_at[pair] = True
-            table = GapTable(design.stock, pair)
+            table = GapTable(shelf, pair)
             places = table.places_within(Ratio.of(gap))
             if places is not None:
                 return Setting.of(places), index

@@ -5,7 +5,8 @@ from betweenfaces.grids import corners_of, spans_between
 from betweenfaces.lists import choices_of, number_of
 from betweenfaces.ratios import Ratio, ascending
 from betweenfaces.reading import ToldTable
-from betweenfaces.tables import flat_value, raw_table
+from betweenfaces.sheets import Shelf
+from betweenfaces.tables import raw_table, shape_of
 from betweenfaces.there import turn_there
 from betweenfaces.turns import bends, jumps
 
@@ -13,7 +14,12 @@ from betweenfaces.turns import bends, jumps
 def check_form(design, thing, told):
     """Whether any value is the form of a thing."""
     check_thing(design.stock, thing)
-    raw = raw_table(design.stock, thing)
+    return is_form_on(Shelf(design.stock), thing, told)
+
+
+def is_form_on(shelf, thing, told):
+    """Whether any value is the form of a thing of a design whose sheets are kept."""
+    raw = raw_table(shelf, thing)
     if not _is_form(raw, told):
         return False
     axes, table = told
@@ -27,11 +33,12 @@ def check_reason(design, thing, told):
     if not _is_reason(design.stock.scales, told):
         return False
     name, place, word, setting = told
-    if turn_there(design.stock, thing, (name, place), setting) != word:
+    shelf = Shelf(design.stock)
+    if turn_there(shelf, thing, (name, place), setting) != word:
         return False
     if word == "jump":
         return True
-    raw = raw_table(design.stock, thing)
+    raw = raw_table(shelf, thing)
     side = number_of(raw.order, name)
     at = number_of(raw.stops[side], place)
     return not raw.marks[side][at] or not jumps(raw, side, at)
@@ -92,7 +99,7 @@ def _are_corners(is_pair, cell, values):
         return False
     if not all([_is_shift(value) if is_pair else _is_letter_value(value) for value in values]):
         return False
-    shapes = [flat_value(value)[0] for value in values]
+    shapes = [shape_of(value) for value in values]
     return all([shape == shapes[0] for shape in shapes])
 
 

@@ -4,6 +4,7 @@ from betweenfaces.asking import check_setting, check_thing
 from betweenfaces.grids import corners_of, inside_of, spans_between
 from betweenfaces.lists import choices_of, without_item
 from betweenfaces.reading import ToldTable
+from betweenfaces.sheets import Shelf
 from betweenfaces.tables import raw_table
 from betweenfaces.there import turn_there
 from betweenfaces.turns import bends_at, crossings, jumps_at, kept_places
@@ -12,7 +13,12 @@ from betweenfaces.turns import bends_at, crossings, jumps_at, kept_places
 def form(design, thing):
     """The form of a thing: (axes, table)."""
     check_thing(design.stock, thing)
-    raw = raw_table(design.stock, thing)
+    return form_on(Shelf(design.stock), thing)
+
+
+def form_on(shelf, thing):
+    """The form of a thing of a design whose sheets are kept."""
+    raw = raw_table(shelf, thing)
     kept = kept_places(raw)
     axes = []
     for name, stops, places in zip(raw.order, raw.stops, kept):
@@ -23,13 +29,18 @@ def form(design, thing):
 
 def forms(design):
     """The list of tuples (thing, form) of all letters, and of the pairs that have a shift other than 0 somewhere."""
-    stock = design.stock
-    told = [(name, form(design, name)) for name in stock.glyphs]
+    return forms_on(Shelf(design.stock))
+
+
+def forms_on(shelf):
+    """The same for a design whose sheets are kept."""
+    stock = shelf.stock
+    told = [(name, form_on(shelf, name)) for name in stock.glyphs]
     for one in stock.glyphs:
         for other in stock.glyphs:
             pair = one + other
             if stock.has_shift(pair):
-                paper = form(design, pair)
+                paper = form_on(shelf, pair)
                 if is_shifted(paper):
                     told.append((pair, paper))
     return told
@@ -50,12 +61,12 @@ def at_form(told, setting):
 def reasons(design, thing):
     """The list of tuples (axis, place, word, setting) that show why the form has its places and jumps."""
     check_thing(design.stock, thing)
-    raw = raw_table(design.stock, thing)
+    raw = raw_table(Shelf(design.stock), thing)
     found = []
     for side, places in enumerate(kept_places(raw)):
         for at, jump in places:
             if jump or 0 < at < len(raw.stops[side]) - 1:
-                found.append(_reason(design.stock, thing, raw, side, (at, jump)))
+                found.append(_reason(raw, side, (at, jump)))
     return found
 
 
@@ -72,7 +83,7 @@ def _values(raw, kept, cell):
     return [raw.continued(tuple([span for span, _ in ends]), tuple([at for _, at in ends])) for ends in corners]
 
 
-def _reason(stock, thing, raw, side, place):
+def _reason(raw, side, place):
     """Why the form has a place (number, whether it is a jump)."""
     at, jump = place
     name, word = raw.order[side], "jump" if jump else "bend"
@@ -82,6 +93,6 @@ def _reason(stock, thing, raw, side, place):
         if any([turns_at(raw, side, at, crossing, corner) for corner in corners_of(crossing)]):
             # Numbers that are straight along each axis and not 0 at all corners are not 0 at one of these.
             for setting in inside_of(others, stops, crossing):
-                if turn_there(stock, thing, (name, raw.stops[side][at]), setting) == word:
+                if turn_there(raw.shelf, raw.text, (name, raw.stops[side][at]), setting) == word:
                     return name, raw.stops[side][at], word, setting
     return None

@@ -26,9 +26,10 @@ class Sides:
 class GapTable(Grid):
     """The sides of two neighbouring letters in the cells in which they are drawn as the same letters."""
 
-    def __init__(self, stock, pair):
+    def __init__(self, shelf, pair):
+        stock = shelf.stock
         reaches = stock.reaches(pair) + stock.reaches(pair[0]) + stock.reaches(pair[1])
-        super().__init__(stock, pair, places_for(stock, reaches, stock.boxes(pair)))
+        super().__init__(shelf, pair, places_for(stock, reaches, stock.boxes(pair)))
         # Cells that meet mostly share what the letters are drawn as.
         self._sides = {}
 

@@ -8,14 +8,14 @@ from betweenfaces.lists import choices_of
 from betweenfaces.ratios import Ratio, ascending
 from betweenfaces.raws import combined, span_insides
 from betweenfaces.settings import Setting
-from betweenfaces.sheets import Sheet
 
 
 class Grid:
     """Places on all axes of a design, with all marks of the letters of a text among those that are marked."""
 
-    def __init__(self, stock, text, places):
-        self.stock = stock
+    def __init__(self, shelf, text, places):
+        self.shelf = shelf
+        self.stock = shelf.stock
         self.text = text
         self.order = list(places)
         self.stops = [[place for place, _ in own] for own in places.values()]
@@ -48,7 +48,8 @@ class Grid:
     def sheet(self, corner):
         """All letters at a corner."""
         if corner not in self._sheets:
-            self._sheets[corner] = Sheet(self.stock, self.stock.inner(self.places_at(corner)))
+            shelf = self.shelf
+            self._sheets[corner] = shelf.sheet(self.places_at(corner))
         return self._sheets[corner]
 
 

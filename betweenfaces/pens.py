@@ -2,14 +2,14 @@
 
 from betweenfaces.grids import Grid
 from betweenfaces.raws import places_for, span_insides, spans_of
-from betweenfaces.sheets import Sheet
+from betweenfaces.sheets import Sheet, Shelf
 
 
 class PenTable(Grid):
     """The widths of a text in the cells that the places make at which they may turn or jump."""
 
     def __init__(self, stock, text):
-        super().__init__(stock, text, places_for(stock, stock.width_reaches(text), stock.boxes(text)))
+        super().__init__(Shelf(stock), text, places_for(stock, stock.width_reaches(text), stock.boxes(text)))
         # Cells that meet mostly share what the text is drawn as.
         self._widths = {}
 

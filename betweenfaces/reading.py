@@ -2,7 +2,7 @@
 
 from betweenfaces.blends import blend
 from betweenfaces.grids import spans_between
-from betweenfaces.lists import choices_of, number_of
+from betweenfaces.lists import number_of
 from betweenfaces.ratios import Ratio, share
 from betweenfaces.tables import flat_value, value_of
 
@@ -39,16 +39,21 @@ class ToldTable:
 
     def continued(self, cell, places):
         """The value at told places, continued from a cell, told flatly, but not in lowest terms."""
-        weights = []
-        for name, stops, (low, high) in zip(self.order, self.stops, cell):
-            weights.append([Ratio(1)] if low == high else _shares(stops[low], places[name], stops[high]))
         values = self._corners(cell)
-        scalars = [Ratio(1, bottom) for _, _, bottom in values]
-        for number, chosen in enumerate(choices_of(weights)):
-            for weight in chosen:
-                scalars[number] = scalars[number] * weight
-        tops, bottom = blend(scalars, [numbers for _, numbers, _ in values])
+        weights = self._weights(cell, places)
+        scalars = [weight * Ratio(1, values[number][2]) for number, weight in weights]
+        tops, bottom = blend(scalars, [values[number][1] for number, _ in weights])
         return values[0][0], tops, bottom
+
+    def _weights(self, cell, places):
+        """The pairs (number of a corner, its weight) of the corners of a cell that count at told places."""
+        weights = [(0, Ratio(1))]
+        for name, stops, (low, high) in zip(self.order, self.stops, cell):
+            if low != high:
+                part = share(stops[low], places[name], stops[high])
+                parts = [(side, own) for side, own in ((0, Ratio(1) - part), (1, part)) if own]
+                weights = [(2 * number + side, weight * own) for number, weight in weights for side, own in parts]
+        return weights
 
     def _corners(self, cell):
         """The values at the corners of a cell, told flatly."""
@@ -66,9 +71,3 @@ def _span_with(stops, spans, place):
     # A jump has a span of its own, which stands between those that end there.
     alone = [(low, high) for low, high in held if low == high]
     return alone[0] if alone else held[0]
-
-
-def _shares(low, at, high):
-    """The weights of the two ends of a stretch at a place in it."""
-    part = share(low, at, high)
-    return [Ratio(1) - part, part]

@@ -1,4 +1,4 @@
-"""The letters of a design at one setting."""
+"""The letters of a design at one setting, and at several."""
 
 from betweenfaces.ratios import Ratio
 
@@ -66,6 +66,22 @@ class Sheet:
                 rounds.extend(moved_rounds(self._kept_outline(part), x, y))
             self._outlines[name] = rounds
         return self._outlines[name]
+
+
+class Shelf:
+    """The sheets of a design at told places, for all that is asked of it at once: each of them is made but once."""
+
+    def __init__(self, stock):
+        self.stock = stock
+        self._sheets = {}
+
+    def sheet(self, places):
+        """The sheet at the told places of a Setting or a dict."""
+        told = [places[axis.name] for axis in self.stock.scales]
+        key = tuple([(place.top, place.bottom) for place in told])
+        if key not in self._sheets:
+            self._sheets[key] = Sheet(self.stock, self.stock.inner(places))
+        return self._sheets[key]
 
 
 def split_rounds(letter, spots):

@@ -7,14 +7,13 @@ from betweenfaces.blends import flat, in_pairs
 from betweenfaces.grids import Grid
 from betweenfaces.ratios import Ratio, whole
 from betweenfaces.raws import raw_places
-from betweenfaces.sheets import Sheet
 
 
 class ThingTable(Grid):
     """The values of a thing in the cells that places make, the raw places of the thing being among these."""
 
-    def __init__(self, stock, thing, places):
-        super().__init__(stock, thing, places)
+    def __init__(self, shelf, thing, places):
+        super().__init__(shelf, thing, places)
         self.is_pair = len(thing) == 2
         # Cells that meet mostly share what a thing is drawn as.
         self._values = {}
@@ -26,7 +25,8 @@ class ThingTable(Grid):
 
     def value_inside(self, cell, places):
         """The value at told places within a cell; its lists are new."""
-        sheet = Sheet(self.stock, self.stock.inner(places))
+        shelf = self.shelf
+        sheet = shelf.sheet(places)
         return sheet.value(self.drawn(cell))
 
     def told(self, cell, corner):
@@ -38,9 +38,14 @@ class ThingTable(Grid):
         return self._values[(drawn, corner)]
 
 
-def raw_table(stock, thing):
+def raw_table(shelf, thing):
     """The table of a thing in its raw cells."""
-    return ThingTable(stock, thing, raw_places(stock, thing))
+    return ThingTable(shelf, thing, raw_places(shelf.stock, thing))
+
+
+def shape_of(value):
+    """The tuple of the numbers of points of the rounds of a value; it is empty for that of a pair."""
+    return () if isinstance(value, Ratio) else tuple([len(points) for points in value[0]])
 
 
 def flat_value(value):
@@ -48,9 +53,8 @@ def flat_value(value):
     if isinstance(value, Ratio):
         return (), [value.top], value.bottom
     rounds, width = value
-    points = [point for points in rounds for point in points]
-    tops, bottom = whole(flat(points) + [width])
-    return tuple([len(points) for points in rounds]), tops, bottom
+    tops, bottom = whole(flat([point for points in rounds for point in points]) + [width])
+    return shape_of(value), tops, bottom
 
 
 def value_of(shape, tops, bottom, is_pair):

@@ -7,15 +7,15 @@ from betweenfaces.tables import ThingTable
 from betweenfaces.turns import bends_at, jumps_at
 
 
-def turn_there(stock, thing, place, setting):
+def turn_there(shelf, thing, place, setting):
     """How a thing turns at a place, a pair (name of the axis, number), at a Setting of the other axes.
 
     The word is "jump" or "bend"; an empty one if it does not turn there.
     """
     name, number = place
-    raw = raw_places(stock, thing)
+    raw = raw_places(shelf.stock, thing)
     here = {other: [(setting[other], False)] if other in setting else [] for other in raw}
-    table = ThingTable(stock, thing, merged_places(raw, here))
+    table = ThingTable(shelf, thing, merged_places(raw, here))
     side = number_of(table.order, name)
     if number not in table.stops[side]:
         return ""

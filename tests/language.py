@@ -87,6 +87,7 @@ def package_faults(texts):
     generators = {node.name for node in functions if any(isinstance(part, (ast.Yield, ast.YieldFrom)) for part in ast.walk(node))}
     many = [node.name for node in functions]
     found = [("L23", name, 1) for name in generators if many.count(name) > 1]
+    found += _two_meanings(trees)
     for name, tree in trees.items():
         found += [(rule, name, line) for rule, line in _local_names(tree) + _stars(tree) + _shadows(tree)]
         found += [("L23", name, line) for line in _kept_generators(tree, generators)]
@@ -244,6 +245,15 @@ def _root(names, name):
     while names.get(name, name) != name:
         name = names[name]
     return name
+
+
+def _two_meanings(trees):
+    """Methods of a class whose name is that of an attribute of any class: the rule allows few of them, this none."""
+    classes = [(name, node) for name, tree in trees.items() for node in ast.walk(tree) if isinstance(node, ast.ClassDef)]
+    assigned = {part.attr for _, node in classes for part in ast.walk(node)
+                if isinstance(part, ast.Attribute) and isinstance(part.ctx, ast.Store)}
+    return [("L18", name, part.lineno) for name, node in classes for part in node.body
+            if isinstance(part, ast.FunctionDef) and part.name in assigned and not part.decorator_list]
 
 
 def _properties(trees):

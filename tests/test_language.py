@@ -84,7 +84,8 @@ WRONG_IN_THE_PACKAGE = {
            "def f(xs):\n    return [[x for x in xs] for x in xs]\n", "def f(xs):\n    return [[xs for xs in x] for x in xs]\n"],
     "L23": ["def f(x):\n    return steps(x)\n", "def f(x):\n    y = steps(x)\n", "def f(x):\n    return f(steps(x))\n",
             "class A:\n    def steps(self):\n        return 1\n"],
-    "L18": ["class A:\n    def __init__(self):\n        self.n = 1\n\n    def n(self):\n        return 1\n"],
+    "L18": ["class A:\n    def __init__(self):\n        self.n = 1\n\n    def n(self):\n        return 1\n",
+            "class A:\n    def n(self):\n        return 1\n\n\nclass B:\n    def __init__(self, a):\n        a.n = 1\n"],
 }
 
 
