@@ -88,6 +88,14 @@ class Clear(Case):
         design = Design([axis_w()], {"a": moving})
         self.same(self.just(design, "aa", -8), (Setting(w=HALF), 0))
 
+    def test_places_of_the_left_and_of_the_right_letter_count(self):
+        hill = [FullRow(Reach(w=Tent(0, HALF, 1)), [(6, 0)])]
+        valley = [FullRow(Reach(w=Tent(0, HALF, 1)), [(-6, 0)])]
+        letters = {"a": bar(10, 8, rows=hill), "b": bar(10, 2, rows=valley), "c": bar(10, 5), "d": bar(Quantity(10, (Reach(w=Tent(0, HALF, 1)), -3)), 5)}
+        design = Design([axis_w()], letters)
+        for text, gap in (("ac", 1), ("cb", 1), ("dc", 7), ("ab", -8)):
+            self.same(self.just(design, text, gap), (Setting(w=HALF), 0))
+
     def test_two_points_that_change_their_order(self):
         left = bar(10, 8, 0, rows=[FullRow(UP, [(-8, 0), (10, 0)])])
         design = Design([axis_w()], {"a": left, "b": bar(5, 0)})

@@ -221,6 +221,10 @@ class Wrong(Case):
         self.refused(InvalidJoin("a"), glued, other(), one, "a")
         self.refused(InvalidJoin("b"), glued, one, other(), "b")
         self.refused(InvalidJoin("a"), glued, other(axes=low + b, swaps=[({}, {"y": "y"})]), other(), "a")
+        # A swap that does not reach to where the rooms meet, in one of them or in both.
+        away = [({"a": (0, Ratio(1, 4))}, {"y": "z"})], [({"a": (Ratio(3, 4), 1)}, {"y": "z"})]
+        for here, there in (away, (away[0], []), ([], away[1])):
+            self.refused(InvalidJoin("a"), glued, other(axes=low + b, swaps=here), other(swaps=there), "a")
         # Two at once.
         self.refused(InvalidJoin("a"), glued, one, other(axes=high, swaps=[({}, {"y": "z"})], u=more["x"]), "a")
 

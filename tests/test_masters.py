@@ -179,6 +179,15 @@ class WrongMasters(Case):
                 self.refused(InvalidMasters(0), from_masters, [axis_on()], value)
             self.refused(InvalidMasters(0), from_masters, [axis_on()], [value])
             self.refused(InvalidMasters(1), from_masters, [axis_on()], widths((0, 1)) + [value])
+            if not isinstance(value, dict) or not value:
+                self.refused(InvalidMasters(0), from_masters, [axis_on()], [(Setting(w=0), value)])
+            self.refused(InvalidMasters(0), from_masters, [axis_on()], [(Setting(w=0), {"a": value})])
+            if not isinstance(value, str) or len(value) != 1 or not value.islower():
+                if isinstance(value, (str, int, type(None))):
+                    self.refused(InvalidMasters(0), from_masters, [axis_on()], [(Setting(w=0), {value: (1, [])})])
+            self.refused(InvalidMasters(0), from_masters, [axis_on()], [(value, {"a": (1, [])})] if value != Setting(w=1) else None)
+            if not isinstance(value, (list, tuple)) or (value and not all(isinstance(points, list) for points in value)):
+                self.refused(InvalidMasters(0), from_masters, [axis_on()], [(Setting(w=0), {"a": (1, value)})])
         self.refused(InvalidMasters(0), from_masters, [axis_on()], tuple(widths((0, 1))))
         self.refused(InvalidMasters(0), from_masters, [axis_on()], [])
         self.refused(InvalidMasters(0), from_masters, [], [])

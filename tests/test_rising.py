@@ -187,6 +187,10 @@ class CheckFall(Case):
             self.assertIs(check_fall(design, "a", "w", wrong), False)
         self.assertIs(check_fall(design, "b", "w", (low, high)), False)
         self.assertIs(check_fall(design, "", "w", (low, high)), False)
+        # A text that rises is narrower at the second one if the greater place comes first.
+        rising = design_with(axes=two_axes(), a=Quantity(5, (both, 4)))
+        for thing in ((low, high), (high, low)):
+            self.assertIs(check_fall(rising, "a", "w", thing), False)
         # Along v they differ on another axis.
         self.assertIs(check_fall(design, "a", "v", (low, high)), False)
         self.assertIs(check_fall(design, "a", "v", (Setting(v=0, w=1), high)), True)

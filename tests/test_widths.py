@@ -262,6 +262,16 @@ class Checks(Case):
         self.assertIs(check_widest(design, "b", (14, Setting(v=1, w=Ratio(1, 4)), False)), False)
         self.assertIs(check_widest(design, "b", (14, Setting(v=1, w=1), False)), True)
 
+    def test_a_cell_of_one_place_that_is_open_along_another_axis(self):
+        # At v 1/2 alone c is drawn, 10 to 14 along w, and at w 1 it is hidden, too.
+        swaps = [({"w": (1, 1)}, {"b": "a"}), ({"v": (HALF, HALF)}, {"b": "c"})]
+        design = design_with(swaps, None, two_axes(), a=Quantity(9), b=Quantity(8), c=Quantity(10, (UP, 4)))
+        self.same(widest(design, "b"), (Ratio(14), Setting(v=HALF, w=1), False))
+        self.assertIs(check_widest(design, "b", (14, Setting(v=HALF, w=1), False)), True)
+        for place in (0, Ratio(1, 4), Ratio(499, 1000), Ratio(3, 4), 1):
+            self.assertIs(check_widest(design, "b", (14, Setting(v=place, w=1), False)), False)
+        self.assertIs(check_widest(design, "b", (14, Setting(v=HALF, w=Ratio(999, 1000)), False)), False)
+
     def test_the_least_width_likewise(self):
         valley = Quantity(10, (Reach(w=Tent(0, HALF, 1)), -4))
         design = design_with([({"w": (HALF, HALF)}, {"b": "a"})], a=Quantity(11), b=valley)
