@@ -26,12 +26,9 @@ def places_over(stops, marks, cell, values, limit):
 
 
 def place_over(span, values, limit):
-    """The place in a span at which something is more than a limit, from its values at the low and the high."""
+    """A place in a span at which something is more than a limit, from its values at the low and the high."""
     low, with_low, high, with_high = span
-    if low == high:
-        return low if limit.under(values[0]) else None
-    found = places_over([[low, high]], [[not with_low, not with_high]], ((0, 1),), values, limit)
-    return None if found is None else found[0]
+    return places_over([[low, high]], [[not with_low, not with_high]], ((0, 1),), values, limit)[0]
 
 
 def _part(value, floor, limit, many):

@@ -72,6 +72,19 @@ class Alike(Case):
         self.are_unlike(one, other, ["a"])
         self.assertNotIn(str(alike(one, other)[1]), ("w=0", "w=1/2", "w=1"))
 
+    def test_where_they_meet_at_one_place_within_a_cell(self):
+        # x is w in one, and as much as the meeting place on its other side in the other one: they meet there, and differ elsewhere.
+        for meet in (THIRD, HALF, Ratio(2, 3)):
+            one = Design([axis_w()], {"a": point_letter((Tent(0, 1, 1), (1, 0)))})
+            other = Design([axis_w()], {"a": point_letter((Tent(0, 1, 1), (-1, 0)), x=meet + meet)})
+            self.are_unlike(one, other, ["a"])
+            self.assertNotEqual(alike(one, other)[1], Setting(w=meet))
+        # Here they meet wherever v or w is 1/3.
+        axes, both = [Axis("v", least=0, home=0, most=1), axis_w()], Reach(v=Tent(0, 1, 1), w=Tent(0, 1, 1))
+        slopes = [(Reach(v=Tent(0, 1, 1)), -THIRD), (Reach(w=Tent(0, 1, 1)), -THIRD)]
+        one = Design(axes, letters_with(a=Quantity(Ratio(1, 9), *slopes, (both, 1))))
+        self.are_unlike(one, Design(axes, letters_with(a=Quantity(0))), ["a"])
+
     def test_written_otherwise(self):
         for seed in range(30):
             maker = Maker(seed)
